@@ -28,6 +28,18 @@ INTERFACE = [
     ("problems", ["Problem many rows price", "price_of problem filling", "is_plan problem thing", "plans problem",
                   "least_plans problem", "prices_to problem number"]),
     ("derivations", ["derived many named derivation", "is_derivation many named thing"]),
+    ("papers", ["results many named paper", "is_paper many named goal thing", "flat many named paper"]),
+    ("proving", ["clause_of many row literals", "is_refutation many named thing", "refutation many rows",
+                 "follows many rows goal", "least_of many rows terms"]),
+    ("trimming", ["needed many named paper", "trimmed many named paper", "exchanged many named paper witness"]),
+    ("following", ["slack many row literals", "forced many row literals", "followed many rows literals",
+                   "refuted_by_following many rows", "known_by_following many rows row",
+                   "followed_by many rows literals picks"]),
+    ("trails", ["is_trail many rows thing", "is_whole many rows thing", "trail_of many rows choices",
+                "levels many rows trail", "literals_to many rows trail level", "reason_row many rows trail spot",
+                "reason_paper many rows trail spot", "clash_paper many rows literals"]),
+    ("leaning", ["leans many rows filling", "leaning many rows", "nearest many rows filling",
+                 "short_plan many rows"]),
 ]
 
 BUILTINS = """len range enumerate zip min max sum abs sorted reversed int str bool list tuple dict set isinstance ord repr

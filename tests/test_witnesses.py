@@ -38,6 +38,7 @@ class WitnessTest(Case):
             self.same(is_witness(2, bad), False)
             for call in (led_literal, led_row, led_filling, behind):
                 self.refuses(BadWitness, call, 2, bad, None)
+            self.refuses(BadWitness, behind, 2, bad, good)
             self.refuses(BadWitness, behind, 2, good, bad)
         for literal in (0, 3, True, None, "yes"):
             self.refuses(BadLiteral, led_literal, 2, good, literal)

@@ -52,11 +52,6 @@ def is_row_of(many, thing):
     return is_pair(thing) and are_terms_of(many, thing[0]) and is_number_from(0, thing[1])
 
 
-def are_rows_of(many, thing):
-    """Whether thing is a list of rows, however many."""
-    return is_list(thing) and all([is_row_of(many, row) for row in thing])
-
-
 def is_filling_of(many, thing):
     if not isinstance(thing, tuple) or len(thing) != many:
         return False
@@ -89,7 +84,7 @@ def check_row(many, row):
 
 
 def check_rows(many, rows):
-    if not is_list(rows) or len(rows) > MOST_ROWS or not are_rows_of(many, rows):
+    if not is_list(rows) or len(rows) > MOST_ROWS or not all([is_row_of(many, row) for row in rows]):
         raise BadRows("rows are a list of at most 400 rows")
 
 

@@ -1,7 +1,7 @@
 """Derivations: instructions that lead from named rows to one that follows."""
 from witnesslog.checks import check_many, is_list, is_literal_of, is_number, is_number_between, is_row_of
 from witnesslog.errors import BadDerivation, BadNamed
-from witnesslog.rows import normal_row, weight_sum
+from witnesslog.rows import normal_row
 
 MOST_INSTRUCTIONS = 400000
 
@@ -66,7 +66,8 @@ def _is_done(many, rows, stack, instruction):
     if left < 0:
         return False
     row = _row_put(rows, stack, instruction)
-    if not _is_narrow(row):
+    # The other instructions put no greater numbers than those that are on the stack.
+    if instruction[0] in ("row", "sum", "times") and not _is_narrow(row):
         return False
     del stack[left:]
     stack.append(row)
@@ -74,7 +75,7 @@ def _is_done(many, rows, stack, instruction):
 
 
 def _is_instruction(many, rows, thing):
-    if not isinstance(thing, tuple) or len(thing) == 0 or not isinstance(thing[0], str):
+    if not isinstance(thing, tuple) or len(thing) == 0:
         return False
     word = thing[0]
     if word in ("sum", "capped"):
@@ -142,5 +143,7 @@ def _capped(row):
 
 def _weakened(row, variable):
     terms, bound = row
-    kept = tuple([pair for pair in terms if abs(pair[1]) != variable])
-    return (kept, max(0, bound - weight_sum(terms) + weight_sum(kept)))
+    for index, pair in enumerate(terms):
+        if abs(pair[1]) == variable:
+            return (terms[:index] + terms[index + 1:], max(0, bound - pair[0]))
+    return row

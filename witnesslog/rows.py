@@ -113,6 +113,11 @@ def holds_at(row, filling):
     return sum_at(row[0], filling) >= row[1]
 
 
+def slack_under(row, given):
+    """The slack of row under the literals given, a list, a tuple or a dict that has them for keys."""
+    return sum([weight for weight, literal in row[0] if -literal not in given]) - row[1]
+
+
 def opposite_terms(terms):
     return tuple([(weight, -literal) for weight, literal in terms])
 

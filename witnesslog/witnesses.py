@@ -71,7 +71,7 @@ def turned(many, exchange):
 
 
 def _is_image(many, thing):
-    return is_literal_of(many, thing) or isinstance(thing, str) and thing in ("yes", "no")
+    return is_literal_of(many, thing) or thing in ("yes", "no")
 
 
 def _is_witness_of(many, thing):

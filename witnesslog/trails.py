@@ -1,0 +1,152 @@
+"""Trails: literals that are chosen or forced, and derivations of what is seen along them."""
+from witnesslog.checks import are_literals_of, are_unlike, check_literals, check_many, check_rows
+from witnesslog.checks import is_literal_of, is_number_between, is_pair
+from witnesslog.errors import BadChoices, BadLevel, BadSpot, BadTrail
+from witnesslog.following import Course
+from witnesslog.proving import blamed_by, clause_steps
+
+
+def is_trail(many, rows, thing):
+    """Whether thing is a trail from rows."""
+    check_many(many)
+    check_rows(many, rows)
+    return _is_trail_of(many, rows, thing)
+
+
+def is_whole(many, rows, thing):
+    """Whether thing is a trail in which nothing is left to follow ahead of any choice."""
+    check_many(many)
+    check_rows(many, rows)
+    if not _is_trail_of(many, rows, thing):
+        return False
+    course = Course(rows, ())
+    for literal, reason in thing:
+        if reason is None and course.news() is not None:
+            return False
+        course.give(literal)
+    return True
+
+
+def trail_of(many, rows, choices):
+    """The trail on which choices are chosen one after the other, and followed, and the clash."""
+    check_many(many)
+    check_rows(many, rows)
+    if not are_literals_of(many, choices):
+        raise BadChoices("choices are a list of literals")
+    course = Course(rows, ())
+    trail, clash = course.follow()
+    for choice in choices:
+        if clash is None and course.is_free(choice):
+            trail.append((choice, None))
+            course.give(choice)
+            steps, clash = course.follow()
+            trail.extend(steps)
+    return (tuple(trail), clash)
+
+
+def levels(many, rows, trail):
+    """How many pairs of trail there are of each level."""
+    check_many(many)
+    check_rows(many, rows)
+    check_trail(many, rows, trail)
+    counts = [0]
+    for _, reason in trail:
+        if reason is None:
+            counts.append(0)
+        counts[-1] += 1
+    return counts
+
+
+def literals_to(many, rows, trail, level):
+    """The literals of the pairs of this level or less."""
+    check_many(many)
+    check_rows(many, rows)
+    check_trail(many, rows, trail)
+    if not is_number_between(0, level, len([reason for _, reason in trail if reason is None])):
+        raise BadLevel("a level is a number from 0 to the greatest one of the trail")
+    found = []
+    reached = 0
+    for literal, reason in trail:
+        if reason is None:
+            reached += 1
+        if reached <= level:
+            found.append(literal)
+    return tuple(found)
+
+
+def reason_row(many, rows, trail, spot):
+    """The clause of the literal at spot and of those literals of its reason that are worth 0 ahead of it."""
+    check_many(many)
+    check_rows(many, rows)
+    check_trail(many, rows, trail)
+    check_spot(trail, spot)
+    reason = rows[trail[spot][1]]
+    return (tuple([(1, -literal) for literal in blamed_by(reason, _barred_at(trail, spot))]), 1)
+
+
+def reason_paper(many, rows, trail, spot):
+    """A derivation from rows that ends in reason_row."""
+    check_many(many)
+    check_rows(many, rows)
+    check_trail(many, rows, trail)
+    check_spot(trail, spot)
+    index = trail[spot][1]
+    return clause_steps(index, rows[index], _barred_at(trail, spot))
+
+
+def clash_paper(many, rows, literals):
+    """A derivation of a clause of opposites of some of literals, from which following clashes; or None."""
+    check_many(many)
+    check_rows(many, rows)
+    check_literals(many, literals)
+    course = Course(rows, literals)
+    steps, clash = course.follow()
+    if clash is None:
+        return None
+    given = dict(course.given)
+    told = clause_steps(clash, rows[clash], given)
+    blamed = {literal: True for literal in blamed_by(rows[clash], given)}
+    for literal, index in reversed(steps):
+        del given[literal]
+        if literal in blamed:
+            blamed.update({other: True for other in blamed_by(rows[index], given)})
+            # The reason of literal bars under what is ahead of it and its opposite.
+            given[-literal] = True
+            told.extend(clause_steps(index, rows[index], given))
+            told.extend([("sum",), ("divided", 2)])
+            del given[-literal]
+    return told
+
+
+def check_trail(many, rows, trail):
+    if not _is_trail_of(many, rows, trail):
+        raise BadTrail("a trail is a tuple of pairs of a literal and its reason")
+
+
+def check_spot(trail, spot):
+    if not is_number_between(0, spot, len(trail) - 1) or trail[spot][1] is None:
+        raise BadSpot("a spot is the index of a pair whose literal is not chosen")
+
+
+def _is_trail_of(many, rows, thing):
+    if not isinstance(thing, tuple) or not all([_is_trail_pair(many, rows, pair) for pair in thing]):
+        return False
+    if not are_unlike([literal for literal, _ in thing]):
+        return False
+    course = Course(rows, ())
+    for literal, reason in thing:
+        if reason is not None and literal not in course.forced_by(reason):
+            return False
+        course.give(literal)
+    return True
+
+
+def _is_trail_pair(many, rows, thing):
+    if not is_pair(thing) or not is_literal_of(many, thing[0]):
+        return False
+    return thing[1] is None or is_number_between(0, thing[1], len(rows) - 1)
+
+
+def _barred_at(trail, spot):
+    """The literals under which the reason at spot bars: those ahead of it, and the opposite of its own."""
+    return [literal for literal, _ in trail[:spot]] + [-trail[spot][0]]
