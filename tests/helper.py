@@ -284,6 +284,12 @@ def odd_values():
     ] + deep(80) + deep(79)
 
 
+def is_key(thing):
+    if type(thing) is tuple:
+        return all(is_key(item) for item in thing)
+    return type(thing) not in (list, dict)
+
+
 def variants(thing):
     """Values that differ from thing in one place, each a little, at any depth."""
     found = []
@@ -304,8 +310,7 @@ def variants(thing):
             rest = {other: thing[other] for other in thing if other != k}
             found.append(rest)
             found.extend({**rest, k: other} for other in variants(thing[k]))
-            found.extend({**rest, other: thing[k]} for other in variants(k) if type(other) is not list
-                         and type(other) is not dict)
+            found.extend({**rest, other: thing[k]} for other in variants(k) if is_key(other))
         found.extend([list(thing.items()), None])
     elif type(thing) is int:
         found.extend([thing + 1, thing - 1, -thing, 0, bool(thing), None, str(thing), (thing,), [thing]])

@@ -8,29 +8,52 @@ from tests import helper
 from tests.helper import Case
 from tests.test_language import INTERFACE
 from witnesslog import errors
+from witnesslog.judge import Judge
 from witnesslog.problems import Problem
 
 ROW = (((2, 1), (3, -2)), 4)
+PAIR = [(((1, 1), (1, 2)), 1), (((1, 1), (1, -2)), 1)]
+ORDER = ((1, -2), ((((2, -1), (1, -2), (2, 3), (1, 4)), 3),))
+SUMS = [("row", 0), ("row", 1), ("sum",), ("row", -2), ("sum",)]
+PROBLEM = Problem(3, [ROW], (((1, 1),), 0))
+LOG = [("order", ORDER, {("along", 0): SUMS}), ("plan", (1, 0, 1)), ("derive", [("row", 1)]),
+       ("refute", ROW, [("row", 1), ("row", -1), ("sum",)])]
+JUDGE = Judge(PROBLEM)
+JUDGE.step(("derive", [("row", 1), ("literal", 1), ("sum",)]))
 HALVED = [("row", 0), ("row", 1), ("sum",), ("divided", 2)]
 RIGHT = {
     "many": 3, "thing": None, "sums": [(1, 1), (-2, -3)], "bound": 1, "row": ROW, "filling": (0, 1, 1), "one": ROW,
     "other": ROW, "literal": -2, "rows": [ROW, (((1, 1), (1, -2)), 1)], "witness": (2, -1, 3), "exchange": (2, -1, 3),
-    "price": (((1, 1),), 0), "problem": Problem(3, [ROW], (((1, 1),), 0)), "number": 2,
-    "named": [(((1, 1), (1, 2)), 1), (((1, 1), (1, -2)), 1)], "derivation": HALVED,
+    "price": (((1, 1),), 0), "problem": PROBLEM, "number": 2,
+    "named": PAIR, "derivation": HALVED,
     "paper": (HALVED, [("row", 2), ("times", 2)]), "goal": (((1, 1),), 1), "literals": [-1, 3], "terms": ((1, 1),),
     "picks": [3, 1], "choices": [-1, 3], "trail": ((1, 0), (3, None)), "level": 1, "spot": 0,
+    "order": ORDER, "first": (0, 1, 0), "second": (1, 0, 0), "several": [(1, 1, 0), (0, 1, 0), (0, 0, 1)],
+    "start": (1, 1, 1), "known": {2: ROW, 1: PAIR[0]}, "core": {2: ROW, 1: PAIR[0]}, "goals": {"b": ROW, "a": PAIR[1]},
+    "judge": JUDGE, "log": LOG,
 }
 # Where a parameter of the same name means another thing.
 RIGHT_OF = {
     "behind": {"one": (2, -1, 3), "other": ("yes", 1, -1)},
     "nearest": {"filling": (1, 0, 0)},
     "clause_of": {"literals": [-1]},
+    "resolved": {"clash": PAIR[1], "reason": PAIR[0], "literals": [-1], "literal": 2},
+    "back_level": {"rows": PAIR, "trail": ((-1, None), (2, 0)), "row": PAIR[1]},
+    "gone_back": {"rows": PAIR, "trail": ((-1, None), (2, 0)), "row": PAIR[1]},
+    "learned": {"rows": PAIR, "trail": ((-1, None), (2, 0))},
+    "shortened": {"rows": PAIR, "row": PAIR[1]},
+    "settled": {"rows": PAIR},
+    "rows_at": {"first": (2, "yes", 3), "second": (1, 2, "no")},
+    "soundness": {"order": ORDER},
+    "both": {"one": ORDER, "other": ((-1, 3), ORDER[1])},
 }
 WRONG = {
     "many": 0, "sums": {}, "bound": True, "row": list(ROW), "filling": [0, 1, 1], "one": None, "other": None,
     "literal": 0, "rows": {}, "witness": (1, 1, 0), "exchange": (1, 1, 2), "price": None, "problem": 3, "number": True,
     "named": {True: ROW}, "derivation": {}, "paper": [HALVED], "goal": None, "literals": [1, -1], "terms": [(1, 1)],
-    "picks": [True], "choices": [0], "trail": [(1, 0)], "level": True, "spot": 1,
+    "picks": [True], "choices": [0], "trail": [(1, 0)], "level": True, "spot": 1, "clash": None, "reason": 1,
+    "order": [ORDER], "first": (True, 1, 0), "second": ("no", 3), "several": [None], "start": (0, 1, True),
+    "known": [ROW], "core": {True: ROW}, "goals": {1: None}, "judge": PROBLEM, "log": [None],
 }
 ERRORS = {
     "many": errors.BadMany, "sums": errors.BadSum, "bound": errors.BadBound, "row": errors.BadRow,
@@ -38,14 +61,24 @@ ERRORS = {
     "exchange": errors.BadExchange, "price": errors.BadPrice, "problem": errors.BadProblem, "number": errors.BadNumber,
     "named": errors.BadNamed, "derivation": errors.BadDerivation, "paper": errors.BadPaper, "goal": errors.BadGoal,
     "literals": errors.BadLiterals, "terms": errors.BadTerms, "picks": errors.BadPicks, "choices": errors.BadChoices,
-    "trail": errors.BadTrail, "level": errors.BadLevel, "spot": errors.BadSpot,
+    "trail": errors.BadTrail, "level": errors.BadLevel, "spot": errors.BadSpot, "clash": errors.BadRow,
+    "reason": errors.BadRow, "order": errors.BadOrder, "first": errors.BadFilling, "second": errors.BadFilling,
+    "several": errors.BadFillings, "start": errors.BadFilling, "known": errors.BadNamed, "core": errors.BadNamed,
+    "goals": errors.BadNamed, "judge": errors.BadJudge, "log": errors.BadLog,
+}
+
+
+ERRORS_OF = {
+    "behind": {"one": errors.BadWitness, "other": errors.BadWitness},
+    "covers": {"one": errors.BadRow, "other": errors.BadRow},
+    "both": {"one": errors.BadOrder, "other": errors.BadOrder},
+    "rows_at": {"first": errors.BadWitness, "second": errors.BadWitness},
 }
 
 
 def error_of(name, parameter):
-    if parameter in ("one", "other"):
-        return errors.BadWitness if name == "behind" else errors.BadRow
-    return ERRORS[parameter]
+    told = {**ERRORS, **ERRORS_OF.get(name, {})}
+    return told[parameter]
 
 
 def functions():
@@ -63,6 +96,9 @@ def right_values(name, call):
 def shown(thing):
     if isinstance(thing, Problem):
         return repr((thing.many, thing.rows, thing.price))
+    if isinstance(thing, Judge):
+        return repr((shown(thing.problem), thing.many, thing.best, thing.core(), thing.derived(), thing.order(),
+                     thing.log(), thing.gone, thing.next_id))
     return repr(thing)
 
 
@@ -108,7 +144,7 @@ class ConventionsTest(Case):
         for name, call in self.each():
             told = right_values(name, call)
             for parameter in told:
-                if parameter not in ("thing", "many", "problem"):
+                if parameter not in ("thing", "many", "problem", "judge"):
                     self.refuses_or_takes(call, told, parameter, error_of(name, parameter))
 
     def refuses_or_takes(self, call, told, parameter, error):
@@ -120,8 +156,11 @@ class ConventionsTest(Case):
             except errors.WitnessError as other:
                 # What another parameter may be hangs on this one.
                 self.assertIn(type(other), (errors.BadTrail, errors.BadPaper, errors.BadDerivation, errors.BadLevel,
-                                            errors.BadSpot, errors.TooMany, errors.NotLeaning))
-                self.assertNotEqual(parameter, list(told)[-1])
+                                            errors.BadSpot, errors.TooMany, errors.NotLeaning,
+                                            errors.NoClash, errors.NotBySums, errors.NotSound, errors.BadLiteral,
+                                            errors.BadRow))
+                if not isinstance(other, (errors.NoClash, errors.NotBySums, errors.NotSound)):
+                    self.assertNotEqual(parameter, list(told)[-1])
 
     def test_passed_stays_and_may_change(self):
         for name, call in self.each():

@@ -40,7 +40,27 @@ INTERFACE = [
                 "reason_paper many rows trail spot", "clash_paper many rows literals"]),
     ("leaning", ["leans many rows filling", "leaning many rows", "nearest many rows filling",
                  "short_plan many rows"]),
+    ("learning", ["cut_down many row literals literal", "cut_instructions many row literals literal",
+                  "resolved many clash reason literals literal", "back_level many rows trail row",
+                  "is_learned many rows trail thing", "learned many rows trail", "shortened many rows row"]),
+    ("going_back", ["is_new many rows row", "gone_back many rows trail row", "settled many rows choices"]),
+    ("orders", ["is_order many thing", "no_later many order first second", "strictly_earlier many order first second",
+                "rows_at many order first second", "rows_along many order", "is_sound many order",
+                "soundness many order", "is_by_sums many order", "papers_by_sums many order",
+                "lexicographic many literals", "by_weights many terms", "both many one other",
+                "led_order many order exchange"]),
+    ("earliest", ["earliest many order several", "way_down many order several start"]),
+    ("goals", ["witness_goals many known price order row witness", "dominance_goals many core price order row witness",
+               "strict_rows many order witness", "unmet many known row goals"]),
+    ("judge", ["Judge problem", "judged problem log", "is_log problem thing"]),
+    ("back", ["left judge", "led_back judge filling"]),
 ]
+
+# The methods that the interface lists for its classes, with their parameters.
+CLASS_METHODS = {
+    "Judge": ["core", "derived", "known", "order", "log", "step step", "copy", "__len__", "__eq__ other"],
+    "Problem": ["__eq__ other"],
+}
 
 BUILTINS = """len range enumerate zip min max sum abs sorted reversed int str bool list tuple dict set isinstance ord repr
 any all divmod Exception ValueError TypeError KeyError IndexError""".split()
@@ -190,6 +210,26 @@ class LanguageTest(unittest.TestCase):
                 name, *parameters = line.split()
                 self.assertIn(name, defined)
                 self.assertEqual(list(inspect.signature(getattr(loaded, name)).parameters), parameters, name)
+
+    def test_methods(self):
+        for path, tree in self.each():
+            for node in tree.body:
+                if isinstance(node, ast.ClassDef) and node.name in CLASS_METHODS:
+                    own = {method.name: [one.arg for one in method.args.args] for method in node.body
+                           if isinstance(method, ast.FunctionDef)}
+                    for line in CLASS_METHODS[node.name]:
+                        name, *parameters = line.split()
+                        self.assertEqual(own.get(name), ["self"] + parameters, name)
+
+    def test_no_method_is_an_attribute(self):
+        for path, tree in self.each():
+            for node in tree.body:
+                if isinstance(node, ast.ClassDef):
+                    methods = [method.name for method in node.body if isinstance(method, ast.FunctionDef)]
+                    self.assertEqual(len(methods), len(set(methods)))
+                    given = [at.attr for at in ast.walk(node) if isinstance(at, ast.Attribute)
+                             and isinstance(at.ctx, ast.Store)]
+                    self.assertEqual([name for name in methods if name in given], [])
 
     def test_names(self):
         for path, tree in self.each():

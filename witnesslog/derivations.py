@@ -104,9 +104,9 @@ def _row_put(rows, stack, instruction):
     if word == "times":
         return _multiplied(stack[-1], instruction[1])
     if word == "divided":
-        return _divided(stack[-1], instruction[1])
+        return divided_row(stack[-1], instruction[1])
     if word == "capped":
-        return _capped(stack[-1])
+        return capped_row(stack[-1])
     return _weakened(stack[-1], instruction[1])
 
 
@@ -124,7 +124,7 @@ def _multiplied(row, number):
     return (tuple([(weight * number, literal) for weight, literal in terms]), bound * number)
 
 
-def _divided(row, number):
+def divided_row(row, number):
     terms, bound = row
     return (tuple([(_quotient(weight, number), literal) for weight, literal in terms]), _quotient(bound, number))
 
@@ -134,7 +134,7 @@ def _quotient(one, other):
     return -(-one // other)
 
 
-def _capped(row):
+def capped_row(row):
     terms, bound = row
     if bound == 0:
         return ((), 0)

@@ -24,10 +24,7 @@ def fillings(many):
     """The ascending list of all fillings."""
     check_many(many)
     check_few(many, MOST_TRIED)
-    found = [()]
-    for _ in range(many):
-        found = [filling + (item,) for filling in found for item in (0, 1)]
-    return found
+    return tuples_of(many)
 
 
 def where(many, rows):
@@ -37,4 +34,12 @@ def where(many, rows):
     found = fillings(many)
     for row in rows:
         found = [filling for filling in found if holds_at(row, filling)]
+    return found
+
+
+def tuples_of(count):
+    """The ascending list of the tuples of count numbers 0 or 1."""
+    found = [()]
+    for _ in range(count):
+        found = [items + (item,) for items in found for item in (0, 1)]
     return found

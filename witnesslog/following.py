@@ -30,6 +30,19 @@ class Course:
             return []
         return [literal for weight, literal in self.rows[index][0] if weight > slack_now and self.is_free(literal)]
 
+    def joined(self, rows):
+        """A course of its own, with rows behind those that are here, and the same literals given."""
+        course = Course([], ())
+        course.rows = list(self.rows) + rows
+        course.slacks = self.slacks + [slack_under(row, self.given) for row in rows]
+        course.places = dict(self.places)
+        for literal, more in places_of(rows).items():
+            moved = [(len(self.rows) + index, weight) for index, weight in more]
+            course.places[literal] = course.places.get(literal, []) + moved
+        course.given = dict(self.given)
+        course.waiting = self.waiting + [True] * len(rows)
+        return course
+
     def is_free(self, literal):
         return literal not in self.given and -literal not in self.given
 

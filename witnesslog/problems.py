@@ -28,13 +28,13 @@ def price_of(problem, filling):
     """The base, and the weights of the price's literals that are worth 1 at filling."""
     check_problem(problem)
     check_filling(problem.many, filling)
-    return _price_at(problem, filling)
+    return price_at(problem, filling)
 
 
 def is_plan(problem, thing):
     """Whether thing is a filling at which all rows of problem hold."""
     check_problem(problem)
-    return is_filling_of(problem.many, thing) and all([holds_at(row, thing) for row in problem.rows])
+    return is_plan_of(problem, thing)
 
 
 def plans(problem):
@@ -46,7 +46,7 @@ def plans(problem):
 def least_plans(problem):
     """The ascending list of the plans of the least price."""
     found = plans(problem)
-    prices = [_price_at(problem, plan) for plan in found]
+    prices = [price_at(problem, plan) for plan in found]
     least = min(prices, default=None)
     return [plan for plan, price in zip(found, prices) if price == least]
 
@@ -56,8 +56,7 @@ def prices_to(problem, number):
     check_problem(problem)
     if not is_number(number):
         raise BadNumber("a price is a number")
-    terms, base = problem.price
-    return (opposite_terms(terms), max(0, weight_sum(terms) + base - number))
+    return row_of_prices(problem, number)
 
 
 def check_problem(problem):
@@ -70,6 +69,16 @@ def check_price(many, price):
         raise BadPrice("a price is a pair of terms and a base")
 
 
-def _price_at(problem, filling):
+def price_at(problem, filling):
     terms, base = problem.price
     return base + sum_at(terms, filling)
+
+
+def is_plan_of(problem, thing):
+    return is_filling_of(problem.many, thing) and all([holds_at(row, thing) for row in problem.rows])
+
+
+def row_of_prices(problem, number):
+    """The row of the prices to number."""
+    terms, base = problem.price
+    return (opposite_terms(terms), max(0, weight_sum(terms) + base - number))

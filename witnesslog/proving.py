@@ -39,7 +39,7 @@ def refutation(many, rows):
     found = where(many, rows)
     if found:
         return ("some", found[0])
-    steps, _ = _refuted(rows, ())
+    steps, _ = refuted_steps(rows, ())
     return ("none", tuple(steps))
 
 
@@ -89,26 +89,26 @@ def blamed_by(row, given):
     return [-literal for _, literal in row[0] if -literal in given]
 
 
-def _first_barring(rows, given):
+def first_barring(rows, given):
     for index, row in enumerate(rows):
         if slack_under(row, given) < 0:
             return index
     return None
 
 
-def _refuted(rows, chosen):
+def refuted_steps(rows, chosen):
     """Instructions to a clause of the opposites of some of chosen, and the list of these.
 
     The variables are chosen one after the other; at no filling all rows hold, so that some row bars at last.
     """
-    index = _first_barring(rows, chosen)
+    index = first_barring(rows, chosen)
     if index is not None:
         return (clause_steps(index, rows[index], chosen), blamed_by(rows[index], chosen))
     literal = len(chosen) + 1
-    steps, blamed = _refuted(rows, chosen + (literal,))
+    steps, blamed = refuted_steps(rows, chosen + (literal,))
     if literal not in blamed:
         return (steps, blamed)
-    others, more = _refuted(rows, chosen + (-literal,))
+    others, more = refuted_steps(rows, chosen + (-literal,))
     if -literal not in more:
         return (others, more)
     return (steps + others + [("sum",), ("divided", 2)], _both_blamed(chosen, blamed, more))
@@ -153,7 +153,7 @@ class Climb:
 
     def branch(self, number, chosen):
         if chosen not in self.barring:
-            self.barring[chosen] = _first_barring(self.rows, chosen)
+            self.barring[chosen] = first_barring(self.rows, chosen)
         index = self.barring[chosen]
         if index is not None:
             return self.by_row(number, chosen, index)

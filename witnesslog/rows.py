@@ -62,9 +62,7 @@ def covers(many, one, other):
     check_many(many)
     check_row(many, one)
     check_row(many, other)
-    weights = {literal: weight for weight, literal in other[0]}
-    missing = sum([max(0, weight - weights.get(literal, 0)) for weight, literal in one[0]])
-    return one[1] - missing >= other[1]
+    return is_covered(other, [one])
 
 
 def _are_sums(many, thing):
@@ -125,6 +123,20 @@ def opposite_terms(terms):
 def opposite_row(row):
     terms, bound = row
     return (opposite_terms(terms), max(0, weight_sum(terms) - bound + 1))
+
+
+def is_covered(row, rows):
+    """Whether some row of rows covers row."""
+    weights = {literal: weight for weight, literal in row[0]}
+    for terms, bound in rows:
+        if bound >= row[1] and bound - _missing(terms, weights) >= row[1]:
+            return True
+    return False
+
+
+def _missing(terms, weights):
+    """What the weights of terms are above those of the same literals in weights, a dict."""
+    return sum([max(0, weight - weights.get(literal, 0)) for weight, literal in terms])
 
 
 def bound_is_above(row):

@@ -31,16 +31,8 @@ def trail_of(many, rows, choices):
     """The trail on which choices are chosen one after the other, and followed, and the clash."""
     check_many(many)
     check_rows(many, rows)
-    if not are_literals_of(many, choices):
-        raise BadChoices("choices are a list of literals")
-    course = Course(rows, ())
-    trail, clash = course.follow()
-    for choice in choices:
-        if clash is None and course.is_free(choice):
-            trail.append((choice, None))
-            course.give(choice)
-            steps, clash = course.follow()
-            trail.extend(steps)
+    check_choices(many, choices)
+    trail, clash = chosen_trail(rows, choices)
     return (tuple(trail), clash)
 
 
@@ -62,16 +54,9 @@ def literals_to(many, rows, trail, level):
     check_many(many)
     check_rows(many, rows)
     check_trail(many, rows, trail)
-    if not is_number_between(0, level, len([reason for _, reason in trail if reason is None])):
+    if not is_number_between(0, level, greatest_level(trail)):
         raise BadLevel("a level is a number from 0 to the greatest one of the trail")
-    found = []
-    reached = 0
-    for literal, reason in trail:
-        if reason is None:
-            reached += 1
-        if reached <= level:
-            found.append(literal)
-    return tuple(found)
+    return tuple([literal for literal, _ in pairs_to(trail, level)])
 
 
 def reason_row(many, rows, trail, spot):
@@ -118,6 +103,11 @@ def clash_paper(many, rows, literals):
     return told
 
 
+def check_choices(many, choices):
+    if not are_literals_of(many, choices):
+        raise BadChoices("choices are a list of literals")
+
+
 def check_trail(many, rows, trail):
     if not _is_trail_of(many, rows, trail):
         raise BadTrail("a trail is a tuple of pairs of a literal and its reason")
@@ -145,6 +135,35 @@ def _is_trail_pair(many, rows, thing):
     if not is_pair(thing) or not is_literal_of(many, thing[0]):
         return False
     return thing[1] is None or is_number_between(0, thing[1], len(rows) - 1)
+
+
+def chosen_trail(rows, choices):
+    """The list of the pairs of the trail that trail_of tells, and the clash."""
+    course = Course(rows, ())
+    trail, clash = course.follow()
+    for choice in choices:
+        if clash is None and course.is_free(choice):
+            trail.append((choice, None))
+            course.give(choice)
+            steps, clash = course.follow()
+            trail.extend(steps)
+    return (trail, clash)
+
+
+def greatest_level(trail):
+    return len([literal for literal, reason in trail if reason is None])
+
+
+def pairs_to(trail, level):
+    """The list of the pairs of trail that are of this level or less."""
+    found = []
+    reached = 0
+    for pair in trail:
+        if pair[1] is None:
+            reached += 1
+        if reached <= level:
+            found.append(pair)
+    return found
 
 
 def _barred_at(trail, spot):

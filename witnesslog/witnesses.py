@@ -7,7 +7,7 @@ from witnesslog.rows import normal_row, worth_of
 def is_witness(many, thing):
     """Whether thing is a witness of many variables."""
     check_many(many)
-    return _is_witness_of(many, thing)
+    return is_witness_of(many, thing)
 
 
 def led_literal(many, witness, literal):
@@ -23,15 +23,7 @@ def led_row(many, witness, row):
     check_many(many)
     check_witness(many, witness)
     check_row(many, row)
-    sums = []
-    bound = row[1]
-    for weight, literal in row[0]:
-        image = image_of(witness, literal)
-        if image == "yes":
-            bound = bound - weight
-        elif image != "no":
-            sums.append((weight, image))
-    return normal_row(sums, bound)
+    return row_led(witness, row)
 
 
 def led_filling(many, witness, filling):
@@ -39,7 +31,7 @@ def led_filling(many, witness, filling):
     check_many(many)
     check_witness(many, witness)
     check_filling(many, filling)
-    return tuple([_worth_of_image(image, filling) for image in witness])
+    return filling_led(witness, filling)
 
 
 def behind(many, one, other):
@@ -53,14 +45,13 @@ def behind(many, one, other):
 def is_exchange(many, thing):
     """Whether thing is a witness whose images are literals of unlike variables."""
     check_many(many)
-    return _is_exchange_of(many, thing)
+    return is_exchange_of(many, thing)
 
 
 def turned(many, exchange):
     """The exchange by which what is led by exchange is led back."""
     check_many(many)
-    if not _is_exchange_of(many, exchange):
-        raise BadExchange("an exchange has literals of unlike variables for its images")
+    check_exchange(many, exchange)
     back = {}
     for index, image in enumerate(exchange):
         if image > 0:
@@ -74,25 +65,30 @@ def _is_image(many, thing):
     return is_literal_of(many, thing) or thing in ("yes", "no")
 
 
-def _is_witness_of(many, thing):
+def is_witness_of(many, thing):
     if not isinstance(thing, tuple) or len(thing) != many:
         return False
     return all([_is_image(many, image) for image in thing])
 
 
-def _is_exchange_of(many, thing):
-    if not _is_witness_of(many, thing) or "yes" in thing or "no" in thing:
+def is_exchange_of(many, thing):
+    if not is_witness_of(many, thing) or "yes" in thing or "no" in thing:
         return False
     return are_unlike(thing)
 
 
 def check_witness(many, witness):
-    if not _is_witness_of(many, witness):
+    if not is_witness_of(many, witness):
         raise BadWitness("a witness is a tuple of many images")
 
 
+def check_exchange(many, exchange):
+    if not is_exchange_of(many, exchange):
+        raise BadExchange("an exchange has literals of unlike variables for its images")
+
+
 def check_exchange_witness(many, witness):
-    if not _is_exchange_of(many, witness):
+    if not is_exchange_of(many, witness):
         raise BadWitness("the witness is no exchange")
 
 
@@ -101,6 +97,28 @@ def image_of(witness, literal):
     if literal > 0:
         return image
     return _opposite_image(image)
+
+
+def row_led(witness, row):
+    """The row led by witness, which may be of other variables than its images."""
+    sums = []
+    bound = row[1]
+    for weight, literal in row[0]:
+        image = image_of(witness, literal)
+        if image == "yes":
+            bound = bound - weight
+        elif image != "no":
+            sums.append((weight, image))
+    return normal_row(sums, bound)
+
+
+def filling_led(witness, filling):
+    return tuple([_worth_of_image(image, filling) for image in witness])
+
+
+def unchanged(many):
+    """The witness that leads each variable to itself."""
+    return tuple(range(1, many + 1))
 
 
 def _opposite_image(image):

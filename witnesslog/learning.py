@@ -1,0 +1,203 @@
+"""Learning at clashes: a row that bars is carried back along a trail, till it says something ahead of it."""
+from witnesslog.checks import check_literals, check_many, check_row, check_rows
+from witnesslog.checks import is_literal_of, is_number, is_row_of
+from witnesslog.derivations import capped_row, divided_row, end_of
+from witnesslog.errors import BadLiteral, BadRow, NoClash
+from witnesslog.following import Course, clashes
+from witnesslog.proving import blamed_by, clause_steps, first_barring
+from witnesslog.rows import bound_is_above, normal_row, opposite_row, slack_under, weight_sum
+from witnesslog.trails import check_trail, greatest_level, pairs_to
+
+
+def cut_down(many, row, literals, literal):
+    """Row, weakened and divided so that literal has the weight 1."""
+    _check_cut(many, row, literals, literal)
+    return _cut_row(row, literals, literal)
+
+
+def cut_instructions(many, row, literals, literal):
+    """Instructions that leave cut_down on the stack where row was."""
+    _check_cut(many, row, literals, literal)
+    return _cut_steps(row, literals, literal)
+
+
+def resolved(many, clash, reason, literals, literal):
+    """The row of both, cut down: it bars under literals, as clash does with literal behind them."""
+    check_many(many)
+    check_row(many, clash)
+    check_row(many, reason)
+    check_literals(many, literals)
+    if not is_literal_of(many, literal) or literal not in Course([reason], literals).forced_by(0):
+        raise BadLiteral("the reason does not force the literal")
+    if not _has(clash, -literal) or slack_under(clash, list(literals) + [literal]) >= 0:
+        raise NoClash("the row does not bar by the opposite of the literal")
+    return _resolved_row(clash, reason, literals, literal)
+
+
+def back_level(many, rows, trail, row):
+    """The least level at which row bars or forces a literal."""
+    check_many(many)
+    check_rows(many, rows)
+    check_trail(many, rows, trail)
+    check_barring_row(many, trail, row)
+    return level_back(trail, row)
+
+
+def is_learned(many, rows, trail, thing):
+    """Whether thing is a triple (row, derivation, level), a learned thing of trail."""
+    check_many(many)
+    check_rows(many, rows)
+    check_trail(many, rows, trail)
+    if not isinstance(thing, tuple) or len(thing) != 3:
+        return False
+    row, derivation, level = thing
+    if not is_row_of(many, row) or not is_number(level):
+        return False
+    if end_of(many, dict(enumerate(rows)), derivation)[0] != row or not _bars_at_end(trail, row):
+        return False
+    most = greatest_level(trail)
+    return level == level_back(trail, row) and (level < most or most == 0 and bound_is_above(row))
+
+
+def learned(many, rows, trail):
+    """A learned thing of trail: (row, derivation, level)."""
+    check_many(many)
+    check_rows(many, rows)
+    check_trail(many, rows, trail)
+    if first_barring(rows, _literals_of(trail)) is None:
+        raise NoClash("no row bars at the end of the trail")
+    row, told = learned_row(rows, trail)
+    return (row, told, level_back(trail, row))
+
+
+def shortened(many, rows, row):
+    """A row of some pairs of row, known by following, none of which can go out."""
+    check_many(many)
+    check_rows(many, rows)
+    check_row(many, row)
+    if row[1] != 1 or not all([weight == 1 for weight, _ in row[0]]) or not _is_known(rows, row):
+        raise BadRow("the weights and the bound are 1, and the row is known by following")
+    # With fewer pairs less is known, so that a pair that had to stay has to stay to the end.
+    short = row
+    for pair in row[0]:
+        without = (tuple([other for other in short[0] if other != pair]), 1)
+        if _is_known(rows, without):
+            short = without
+    return short
+
+
+def check_barring_row(many, trail, row):
+    check_row(many, row)
+    if not _bars_at_end(trail, row):
+        raise NoClash("the row does not bar at the end of the trail")
+
+
+def level_back(trail, row):
+    """The back level of row, which bars under all literals of trail."""
+    level = 0
+    while not _speaks(row, _literals_of(pairs_to(trail, level))):
+        level += 1
+    return level
+
+
+def learned_row(rows, trail):
+    """The row of a learned thing of trail, at whose end some row bars, and instructions to it.
+
+    The row bars under those literals of the trail that are left. Where it does so by the last one of them, this one
+    is resolved away. At the last choice, at the latest, the row says something ahead of it.
+    """
+    left = _literals_of(trail)
+    index = first_barring(rows, left)
+    row = rows[index]
+    told = [("row", index)]
+    most = greatest_level(trail)
+    ahead = _literals_of(pairs_to(trail, most - 1))
+    for literal, reason in reversed(trail):
+        if _is_enough(row, most, ahead):
+            return (row, told)
+        del left[literal]
+        if slack_under(row, left) >= 0:
+            told.extend(_cut_steps(row, left, -literal) + [("row", reason)])
+            told.extend(_cut_steps(rows[reason], left, literal) + [("sum",)])
+            row, steps = _tidied(_resolved_row(row, rows[reason], left, literal), left)
+            told.extend(steps)
+    return (row, told)
+
+
+def _is_enough(row, most, ahead):
+    """Whether row can be learned, ahead being the literals of the levels below most."""
+    if most == 0:
+        return bound_is_above(row)
+    return _speaks(row, ahead)
+
+
+def _tidied(row, left):
+    """Row with smaller weights, which bars under left as row does, and the instructions to it."""
+    if _is_wide(row):
+        return ((tuple([(1, -literal) for literal in blamed_by(row, left)]), 1), clause_steps(None, row, left)[1:])
+    return (capped_row(row), [("capped",)])
+
+
+def _is_wide(row):
+    # From rows that are not wide, each step leads to one that can be put; of wide ones it might be too great.
+    terms, bound = row
+    return bound >= 10 ** 30 or not all([weight < 10 ** 30 for weight, _ in terms])
+
+
+def _speaks(row, given):
+    """Whether row bars or forces a literal under the literals given."""
+    return slack_under(row, given) < 0 or len(Course([row], given).forced_by(0)) > 0
+
+
+def _literals_of(pairs):
+    return {literal: True for literal, _ in pairs}
+
+
+def _bars_at_end(trail, row):
+    return slack_under(row, _literals_of(trail)) < 0
+
+
+def _is_known(rows, row):
+    return clashes(list(rows) + [opposite_row(row)], ())
+
+
+def _check_cut(many, row, literals, literal):
+    check_many(many)
+    check_row(many, row)
+    check_literals(many, literals)
+    if not is_literal_of(many, literal) or not _has(row, literal):
+        raise BadLiteral("the literal is in no pair of the row")
+
+
+def _has(row, literal):
+    return literal in [other for _, other in row[0]]
+
+
+def _is_cut(pair, given, divisor):
+    """Whether pair goes out of a row that is cut down."""
+    weight, literal = pair
+    return weight % divisor != 0 and -literal not in given
+
+
+def _weight_in(row, literal):
+    return sum([weight for weight, other in row[0] if other == literal])
+
+
+def _cut_row(row, given, literal):
+    terms, bound = row
+    divisor = _weight_in(row, literal)
+    kept = tuple([pair for pair in terms if not _is_cut(pair, given, divisor)])
+    return divided_row((kept, max(0, bound - weight_sum(terms) + weight_sum(kept))), divisor)
+
+
+def _cut_steps(row, given, literal):
+    divisor = _weight_in(row, literal)
+    told = [("weakened", abs(pair[1])) for pair in row[0] if _is_cut(pair, given, divisor)]
+    return told + [("divided", divisor)]
+
+
+def _resolved_row(clash, reason, given, literal):
+    # Whether literal itself is among those given does not count: it is cut down by its own pair.
+    one = _cut_row(clash, given, -literal)
+    other = _cut_row(reason, given, literal)
+    return normal_row(one[0] + other[0], one[1] + other[1])
