@@ -20,6 +20,7 @@ LOG = [("order", ORDER, {("along", 0): SUMS}), ("plan", (1, 0, 1)), ("derive", [
        ("refute", ROW, [("row", 1), ("row", -1), ("sum",)])]
 JUDGE = Judge(PROBLEM)
 JUDGE.step(("derive", [("row", 1), ("literal", 1), ("sum",)]))
+EQUAL = Judge(Problem(3, [(((1, -1), (1, 2)), 1), (((1, 1), (1, -2)), 1), ROW], ((), 0)))
 HALVED = [("row", 0), ("row", 1), ("sum",), ("divided", 2)]
 RIGHT = {
     "many": 3, "thing": None, "sums": [(1, 1), (-2, -3)], "bound": 1, "row": ROW, "filling": (0, 1, 1), "one": ROW,
@@ -30,7 +31,8 @@ RIGHT = {
     "picks": [3, 1], "choices": [-1, 3], "trail": ((1, 0), (3, None)), "level": 1, "spot": 0,
     "order": ORDER, "first": (0, 1, 0), "second": (1, 0, 0), "several": [(1, 1, 0), (0, 1, 0), (0, 0, 1)],
     "start": (1, 1, 1), "known": {2: ROW, 1: PAIR[0]}, "core": {2: ROW, 1: PAIR[0]}, "goals": {"b": ROW, "a": PAIR[1]},
-    "judge": JUDGE, "log": LOG,
+    "judge": JUDGE, "log": LOG, "row_id": 1, "variable": 3, "holes": 2, "plan": (1, 0, 1), "prices": [0, 2, 2],
+    "least": 2,
 }
 # Where a parameter of the same name means another thing.
 RIGHT_OF = {
@@ -46,6 +48,10 @@ RIGHT_OF = {
     "rows_at": {"first": (2, "yes", 3), "second": (1, 2, "no")},
     "soundness": {"order": ORDER},
     "both": {"one": ORDER, "other": ((-1, 3), ORDER[1])},
+    "exchange_of": {"one": 1, "other": -3},
+    "is_preferred": {"one": 1, "other": -3},
+    "is_plainly_preferred": {"one": 1, "other": -3},
+    "exchanged_steps": {"judge": EQUAL, "literal": 1, "other": 2},
 }
 WRONG = {
     "many": 0, "sums": {}, "bound": True, "row": list(ROW), "filling": [0, 1, 1], "one": None, "other": None,
@@ -53,7 +59,8 @@ WRONG = {
     "named": {True: ROW}, "derivation": {}, "paper": [HALVED], "goal": None, "literals": [1, -1], "terms": [(1, 1)],
     "picks": [True], "choices": [0], "trail": [(1, 0)], "level": True, "spot": 1, "clash": None, "reason": 1,
     "order": [ORDER], "first": (True, 1, 0), "second": ("no", 3), "several": [None], "start": (0, 1, True),
-    "known": [ROW], "core": {True: ROW}, "goals": {1: None}, "judge": PROBLEM, "log": [None],
+    "known": [ROW], "core": {True: ROW}, "goals": {1: None}, "judge": PROBLEM, "log": [None], "row_id": True,
+    "variable": 0, "holes": True, "plan": (1, 1, 1), "prices": [2, 1], "least": None,
 }
 ERRORS = {
     "many": errors.BadMany, "sums": errors.BadSum, "bound": errors.BadBound, "row": errors.BadRow,
@@ -64,7 +71,9 @@ ERRORS = {
     "trail": errors.BadTrail, "level": errors.BadLevel, "spot": errors.BadSpot, "clash": errors.BadRow,
     "reason": errors.BadRow, "order": errors.BadOrder, "first": errors.BadFilling, "second": errors.BadFilling,
     "several": errors.BadFillings, "start": errors.BadFilling, "known": errors.BadNamed, "core": errors.BadNamed,
-    "goals": errors.BadNamed, "judge": errors.BadJudge, "log": errors.BadLog,
+    "goals": errors.BadNamed, "judge": errors.BadJudge, "log": errors.BadLog, "row_id": errors.BadId,
+    "variable": errors.BadVariable, "holes": errors.BadNumber, "plan": errors.BadPlan, "prices": errors.BadPrices,
+    "least": errors.BadLeast,
 }
 
 
@@ -73,6 +82,10 @@ ERRORS_OF = {
     "covers": {"one": errors.BadRow, "other": errors.BadRow},
     "both": {"one": errors.BadOrder, "other": errors.BadOrder},
     "rows_at": {"first": errors.BadWitness, "second": errors.BadWitness},
+    "exchange_of": {"one": errors.BadLiteral, "other": errors.BadOther},
+    "is_preferred": {"one": errors.BadLiteral, "other": errors.BadOther},
+    "is_plainly_preferred": {"one": errors.BadLiteral, "other": errors.BadOther},
+    "exchanged_steps": {"other": errors.BadLiteral},
 }
 
 
@@ -99,6 +112,8 @@ def shown(thing):
     if isinstance(thing, Judge):
         return repr((shown(thing.problem), thing.many, thing.best, thing.core(), thing.derived(), thing.order(),
                      thing.log(), thing.gone, thing.next_id))
+    if isinstance(thing, (list, tuple)):
+        return repr((type(thing), [shown(item) for item in thing]))
     return repr(thing)
 
 
@@ -158,8 +173,10 @@ class ConventionsTest(Case):
                 self.assertIn(type(other), (errors.BadTrail, errors.BadPaper, errors.BadDerivation, errors.BadLevel,
                                             errors.BadSpot, errors.TooMany, errors.NotLeaning,
                                             errors.NoClash, errors.NotBySums, errors.NotSound, errors.BadLiteral,
-                                            errors.BadRow))
-                if not isinstance(other, (errors.NoClash, errors.NotBySums, errors.NotSound)):
+                                            errors.BadRow, errors.BadOther, errors.NotEqual,
+                                            errors.NotEliminated, errors.BadLeast))
+                if not isinstance(other, (errors.NoClash, errors.NotBySums, errors.NotSound, errors.NotEqual,
+                                          errors.NotEliminated)):
                     self.assertNotEqual(parameter, list(told)[-1])
 
     def test_passed_stays_and_may_change(self):

@@ -54,6 +54,19 @@ INTERFACE = [
                "strict_rows many order witness", "unmet many known row goals"]),
     ("judge", ["Judge problem", "judged problem log", "is_log problem thing"]),
     ("back", ["left judge", "led_back judge filling"]),
+    ("meaning", ["core_fillings judge", "known_fillings judge", "is_kept judge", "is_proved judge", "floor judge"]),
+    ("cuts", ["cuts problem log", "trimmed problem log", "renamed problem exchange",
+              "renamed_log problem log exchange"]),
+    ("redundance", ["pure_literals judge", "pure_steps judge literal", "covered_steps judge",
+                    "blocked_literals judge row_id", "eliminated_steps judge variable", "defined_steps judge row",
+                    "exchanged_steps judge literal other"]),
+    ("pigeons", ["pigeons holes"]),
+    ("dominance", ["exchange_of many one other", "is_preferred problem one other",
+                   "is_plainly_preferred problem one other", "preference_rows problem literals",
+                   "exchanged problem literals plan", "ranked problem literals", "lots_alike problem literals",
+                   "chain_rows problem literals", "plan_lots problem literals", "plain_steps problem literals",
+                   "preference_steps problem literals"]),
+    ("choice", ["choice prices least", "choice_log prices least"]),
 ]
 
 # The methods that the interface lists for its classes, with their parameters.

@@ -31,7 +31,13 @@ def where(many, rows):
     """The ascending list of the fillings at which all rows hold."""
     check_many(many)
     check_rows(many, rows)
-    found = fillings(many)
+    check_few(many, MOST_TRIED)
+    return holding(many, rows)
+
+
+def holding(many, rows):
+    """As where, for any number of rows."""
+    found = tuples_of(many)
     for row in rows:
         found = [filling for filling in found if holds_at(row, filling)]
     return found

@@ -53,7 +53,7 @@ class Judge:
         return self.present_order
 
     def log(self):
-        return [kept_step(step) for step in self.steps]
+        return [_kept_step(step) for step in self.steps]
 
     def copy(self):
         judge = Judge(self.problem)
@@ -68,9 +68,15 @@ class Judge:
         return judge
 
     def step(self, step):
-        if not _has_form(step) or not self.lets_by(step):
+        if not self.reads(step):
             raise BadStep("the step is not let by")
-        self.steps.append(kept_step(step))
+
+    def reads(self, step):
+        """Whether the step, any value, is let by; if it is, it is written down."""
+        if not _has_form(step) or not self.lets_by(step):
+            return False
+        self.steps.append(_kept_step(step))
+        return True
 
     def lets_by(self, step):
         """Whether the step is let by; if it is, what comes of it is done."""
@@ -228,9 +234,8 @@ def _read(problem, thing):
     if not is_list(thing):
         return (judge, 0)
     for index, step in enumerate(thing):
-        if not _has_form(step) or not judge.lets_by(step):
+        if not judge.reads(step):
             return (judge, index)
-        judge.steps.append(kept_step(step))
     return (judge, None)
 
 
@@ -241,7 +246,7 @@ def _has_form(thing):
     return thing[0] in LENGTHS and len(thing) in LENGTHS[thing[0]]
 
 
-def kept_step(step):
+def _kept_step(step):
     """The step with lists and dicts of its own, the dicts with ascending keys."""
     return tuple([_kept(part) for part in step])
 

@@ -129,12 +129,12 @@ def is_covered(row, rows):
     """Whether some row of rows covers row."""
     weights = {literal: weight for weight, literal in row[0]}
     for terms, bound in rows:
-        if bound >= row[1] and bound - _missing(terms, weights) >= row[1]:
+        if bound >= row[1] and bound - missing_in(terms, weights) >= row[1]:
             return True
     return False
 
 
-def _missing(terms, weights):
+def missing_in(terms, weights):
     """What the weights of terms are above those of the same literals in weights, a dict."""
     return sum([max(0, weight - weights.get(literal, 0)) for weight, literal in terms])
 

@@ -31,7 +31,7 @@ def exchanged(many, named, paper, witness):
     check_many(many)
     checked_ends(many, rows_by_name(many, named), paper)
     check_exchange_witness(many, witness)
-    return tuple([tuple([_exchanged_one(witness, told) for told in derivation]) for derivation in paper])
+    return tuple([tuple(exchanged_instructions(witness, derivation)) for derivation in paper])
 
 
 def _needed_places(free, paper):
@@ -54,6 +54,11 @@ def _renamed(names, derivation):
         else:
             told.append(instruction)
     return tuple(told)
+
+
+def exchanged_instructions(witness, derivation):
+    """The list of the instructions, their literals and variables exchanged for their images."""
+    return [_exchanged_one(witness, instruction) for instruction in derivation]
 
 
 def _exchanged_one(witness, instruction):

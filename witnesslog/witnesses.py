@@ -39,7 +39,7 @@ def behind(many, one, other):
     check_many(many)
     check_witness(many, one)
     check_witness(many, other)
-    return tuple([_led_image(other, image) for image in one])
+    return witness_behind(one, other)
 
 
 def is_exchange(many, thing):
@@ -52,13 +52,7 @@ def turned(many, exchange):
     """The exchange by which what is led by exchange is led back."""
     check_many(many)
     check_exchange(many, exchange)
-    back = {}
-    for index, image in enumerate(exchange):
-        if image > 0:
-            back[image] = index + 1
-        else:
-            back[-image] = -(index + 1)
-    return tuple([back[variable] for variable in sorted(back)])
+    return exchange_turned(exchange)
 
 
 def _is_image(many, thing):
@@ -110,6 +104,30 @@ def row_led(witness, row):
         elif image != "no":
             sums.append((weight, image))
     return normal_row(sums, bound)
+
+
+def witness_behind(one, other):
+    return tuple([_led_image(other, image) for image in one])
+
+
+def exchange_turned(exchange):
+    back = {}
+    for index, image in enumerate(exchange):
+        if image > 0:
+            back[image] = index + 1
+        else:
+            back[-image] = -(index + 1)
+    return tuple([back[variable] for variable in sorted(back)])
+
+
+def unchanged_but_for(many, literal, image):
+    """The witness that leads literal to image, "yes" or "no", and each other variable to itself."""
+    images = list(unchanged(many))
+    if literal > 0:
+        images[literal - 1] = image
+    else:
+        images[-literal - 1] = _opposite_image(image)
+    return tuple(images)
 
 
 def filling_led(witness, filling):
