@@ -11,6 +11,7 @@ from witnesslog.errors import BadExchange, BadLog, BadProblem
 from witnesslog.going_back import settled
 from witnesslog.judge import is_log, judged
 from witnesslog.meaning import floor, is_proved
+from witnesslog.orders import by_weights, papers_by_sums
 from witnesslog.pigeons import pigeons
 from witnesslog.problems import Problem, plans
 from witnesslog.witnesses import led_filling, led_literal, led_row, turned
@@ -76,12 +77,13 @@ def moved_step(step, missing):
 
 
 def without(problem, log, index):
-    """The log without one step: two readings of what becomes of a step that names the missing id."""
+    """The log without one step: three readings of what becomes of a step that names the missing id."""
     missing = judged(problem, log[:index]).next_id if log[index][0] in ADDING else 10 ** 9
     later = log[index + 1:]
-    one = [None if missing in ids_of(step) else moved_step(step, missing) for step in later]
-    other = [step if missing in ids_of(step) else moved_step(step, missing) for step in later]
-    return [log[:index] + one, log[:index] + other]
+    not_let_by = [None if missing in ids_of(step) else moved_step(step, missing) for step in later]
+    as_it_was = [step if missing in ids_of(step) else moved_step(step, missing) for step in later]
+    others_moved = [moved_step(step, missing) for step in later]
+    return [log[:index] + steps for steps in (not_let_by, as_it_was, others_moved)]
 
 
 def raise_floor(judge):
@@ -161,6 +163,49 @@ class TrimmedTest(Case):
                ("derive", (("row", 4), ("divided", 2), ("times", 2)))]
         self.same(self.check(problem, log), [("derive", [("row", 1), ("row", 2), ("sum",)]),
                                              ("derive", (("row", 3), ("divided", 2), ("times", 2)))])
+
+    def test_ids_move_in_steps_of_all_kinds(self):
+        # The row 1 has to leave, so that 3 is preferred to 2; the variable 4 is defined twice, one row gone between.
+        problem = Problem(3, [(((1, 1), (1, 2)), 1), (((1, -1), (1, 3)), 1), (((1, 2), (1, 3)), 0)],
+                          (((2, 2), (2, 3)), 0))
+        order = by_weights(3, ((1, 2),))
+
+        def told(first):
+            one, other, third, fourth, fifth = range(first, first + 5)
+            kept = (("row", one), ("row", -2), ("sum",))
+            half = [("row", third), ("weakened", 4), ("row", other), ("sum",), ("row", one), ("sum",), ("divided", 2)]
+            last = [("row", fourth), ("times", 2), ("row", fifth), ("weakened", 4), ("sum",), ("row", -1), ("sum",)]
+            return [("follow", (((1, 2), (1, 3)), 1)), ("core", (one,)),
+                    ("leave", 1, ("yes", 2, 3), {("own",): [("row", -2)], ("row", one): list(kept)}),
+                    ("dominate", (((1, -2), (1, 3)), 1), (1, 3, 2), {("row", one): kept}), ("new",),
+                    ("witness", (((1, 4),), 1), (1, 2, 3, "yes"), {("row", one): kept}),
+                    ("derive", half), ("leave", third),
+                    ("witness", (((1, -4),), 1), (1, 2, 3, "no"), {("row", one): kept}),
+                    ("refute", (((2, 3),), 2), last)]
+
+        begin = ("order", order, papers_by_sums(3, order))
+        junk = ("derive", [("row", 3)])
+        shortest = [begin] + told(4)
+        self.same(floor(judged(problem, shortest)), 2)
+        self.same(self.check(problem, shortest), shortest)
+        self.same(self.check(problem, [begin, junk] + told(5)), shortest)
+        self.same(self.check(problem, [begin, junk, junk, ("leave", 5)] + told(6)), shortest)
+
+    def test_named_ids_by_each_reading(self):
+        # Where the first of these rows is left out, the last steps name others that do as well.
+        rows = [(((1, 1),), 1), (((1, -1),), 1), (((1, 2),), 1), (((1, -2),), 1)]
+        problem = Problem(4, rows, (((3, 3), (4, 4)), 0))
+
+        def told(copied, *pairs):
+            steps = [("derive", [("row", k)]) for k in copied]
+            for (one, other), row in zip(pairs, ((((3, 3),), 3), (((4, 4),), 4))):
+                steps.append(("refute", row, [("row", one), ("row", other), ("sum",)]))
+            return steps + [("derive", [("row", 9), ("row", 10), ("sum",)])]
+
+        # As it was: 5 and 7 are 2 + 4 ahead of it. With its other ids moved: 5 and 6 are.
+        for log in (told((1, 3, 2, 4), (5, 7), (6, 8)), told((1, 1, 2, 3), (5, 7), (6, 7))):
+            self.same(floor(judged(problem, log)), 7)
+            self.assertLess(len(self.check(problem, log)), len(log))
 
     def test_proofs(self):
         for holes in (1, 2, 3):

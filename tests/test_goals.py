@@ -106,6 +106,17 @@ class GoalsTest(Case):
         # Covered by no row, and yet refuted by following.
         self.same(unmet(2, {4: (((1, 1),), 1), 2: (((1, -1), (1, 2)), 1)}, ((), 1), {1: (((1, 2),), 1)}), [])
 
+    def test_covered_but_not_followed(self):
+        known = {1: (tuple((1, v) for v in range(1, 6)), 3)}
+        goals = {"more": (tuple((1, v) for v in range(1, 7)), 3), "less": (tuple((1, v) for v in range(2, 6)), 2),
+                 "not": (tuple((1, v) for v in range(1, 6)) + ((1, -6),), 4)}
+        for goal in goals.values():
+            self.assertIsNone(helper.followed([known[1], helper.opposite(goal)], [])[1])
+        self.same(unmet(6, known, (((1, 6),), 0), {}), [])
+        self.same(unmet(6, known, (((1, -6),), 1), goals), ["not"])
+        # The opposite of the row covers a goal as well.
+        self.same(unmet(6, {}, helper.opposite(known[1]), goals), ["not"])
+
     def test_errors(self):
         for many in BAD_MANYS:
             self.refuses(BadMany, witness_goals, many, None, None, None, None, None)

@@ -399,6 +399,22 @@ class JudgeTest(Case):
             self.refuses(BadStep, judge.step, DOMINATE[:3] + (papers,))
         self.same(judge.log(), [ORDER])
 
+    def test_two_strict_rows(self):
+        # No later by two rows; the second one is the strict one, named -4.
+        thing = ((1, 2), ((((1, -1), (1, -2), (1, 3), (1, 4)), 2), (((2, -1), (1, -2), (2, 3), (1, 4)), 3)))
+        judge = Judge(HAND)
+        judge.step(("order", thing, papers_by_sums(2, thing)))
+        for name, word in ((-3, False), (-4, True), (-5, False), (-2, False), (0, False)):
+            step = DOMINATE[:3] + ({("strict",): (("row", -1), ("row", name), ("sum",))},)
+            self.same(judge.copy().reads(step), word)
+
+    def test_papers_of_orders_are_over_three_times_as_many_variables(self):
+        judge = Judge(Problem(6, [], ((), 0)))
+        sums = ORDER[2][("along", 0)]
+        for l, word in ((6, True), (-6, True), (7, False), (-7, False), (8, False)):
+            step = ("order", LEX, {("along", 0): sums + (("literal", l), ("capped",), ("sum",))})
+            self.same(judge.copy().reads(step), word)
+
     def test_core_rows_alone_in_leave(self):
         rows = [(((1, 1),), 1), (((1, 1), (1, 2)), 1)]
         judge = Judge(Problem(2, rows, ((), 0)))
@@ -577,6 +593,8 @@ class JudgeTest(Case):
         self.assertTrue(behind(back) != behind())
         self.assertTrue(behind(back) != behind(("leave", 2, (1, "yes"), {})))
         self.assertTrue(behind(("order", ((1,), ()), {})) != behind(("order", ((2,), ()), {})))
+        two = (derive, other)
+        self.assertTrue(behind(*two, ("core", (3,)), ("leave", 4)) != behind(*two, ("core", (4,)), ("leave", 3)))
         # What has left the core counts, even where a row like it came back.
         again = (("derive", [("row", 1), ("literal", 2), ("sum",)]), ("core", (3,)))
         self.assertTrue(behind(*again) == behind(*again))

@@ -75,6 +75,9 @@ CLASS_METHODS = {
     "Problem": ["__eq__ other"],
 }
 
+# What the package takes of the library; it is only called, by its bare name.
+LIBRARY = {"heapq": ["heappop", "heappush"]}
+
 BUILTINS = """len range enumerate zip min max sum abs sorted reversed int str bool list tuple dict set isinstance ord repr
 any all divmod Exception ValueError TypeError KeyError IndexError""".split()
 
@@ -187,13 +190,24 @@ class LanguageTest(unittest.TestCase):
                 if isinstance(node, ast.ImportFrom):
                     self.assertIn(node, tree.body)
                     self.assertEqual(node.level, 0)
-                    self.assertRegex(node.module, r"\Awitnesslog\.[a-z_]+\Z")
-                    there = module_names(TREES[PACKAGE / (node.module.split(".")[1] + ".py")])
+                    there = LIBRARY.get(node.module)
+                    if there is None:
+                        self.assertRegex(node.module, r"\Awitnesslog\.[a-z_]+\Z")
+                        there = module_names(TREES[PACKAGE / (node.module.split(".")[1] + ".py")])
                     for alias in node.names:
                         self.assertIsNone(alias.asname)
                         self.assertIn(alias.name, there)
+                        if node.module in LIBRARY:
+                            self.assertEqual(self.uses_but_calls(tree, alias.name), 0)
                         used = [name.id for name in ast.walk(tree) if isinstance(name, ast.Name)]
                         self.assertIn(alias.name, used)
+
+    def uses_but_calls(self, tree, name):
+        """How often name is used, less how often it is called with arguments by position."""
+        uses = [node for node in ast.walk(tree) if isinstance(node, ast.Name) and node.id == name]
+        calls = [node for node in ast.walk(tree) if isinstance(node, ast.Call) and not node.keywords
+                 and isinstance(node.func, ast.Name) and node.func.id == name]
+        return len(uses) - len(calls)
 
     def test_imports_go_upwards(self):
         order = [name for name, _ in INTERFACE]
@@ -204,7 +218,8 @@ class LanguageTest(unittest.TestCase):
                 reached[name] = None
                 found = {name}
                 for node in imports(TREES[PACKAGE / (name + ".py")]):
-                    found |= reach(node.module.split(".")[1])
+                    if node.module not in LIBRARY:
+                        found |= reach(node.module.split(".")[1])
                 reached[name] = found
             self.assertIsNotNone(reached[name], "files import from each other: " + name)
             return reached[name]

@@ -66,6 +66,17 @@ def loose_rows(rng, many, count):
     return rows
 
 
+def steep_rows(rng, many):
+    """Rows in which weights of thirty digits stand beside small ones, so that dividing does not make them smaller."""
+    great = 10 ** 30 - 1
+    rows = []
+    for _ in range(int(many * rng.uniform(0.6, 1.6))):
+        literals = sorted(helper.some_literals(rng, many, rng.randint(3, min(many, 5))), key=abs)
+        pairs = tuple((rng.choice((1, 1, 1, great - rng.randint(0, 5), great // 2 + 1)), l) for l in literals)
+        rows.append((pairs, min(helper.weights((pairs, 0)), rng.choice((1, 2, great // 2, great)))))
+    return rows
+
+
 def barring_trails(rng, count, most=6):
     """Many, rows and a trail at whose end some row bars, by chance, also of wide rows."""
     found = []
@@ -228,6 +239,19 @@ class LearnedTest(Case):
             self.assertLess(max([found[0][1]] + [w for w, _ in found[0][0]]), 10 ** 31)
             greatest.append(len(levels_of(trail)) - 1)
         self.assertEqual(sorted(set(greatest))[:4], [0, 1, 2, 3])
+
+    def test_what_is_learned_is_no_wider(self):
+        # Rows are learned from learned ones, again and again: so their weights must not grow.
+        done = 0
+        while done < 1500:
+            many = self.rng.randint(4, 7)
+            rows = steep_rows(self.rng, many)
+            trail, clash = chosen_trail(rows, helper.some_literals(self.rng, many, many))
+            if clash is not None:
+                done += 1
+                found = learned(many, rows, trail)
+                self.assertTrue(learned_thing(many, rows, trail, found), (rows, trail, found))
+                self.assertLess(max([found[0][1]] + [w for w, _ in found[0][0]]), 10 ** 30)
 
     def test_back_level(self):
         for many, rows, trail in barring_trails(self.rng, 300):

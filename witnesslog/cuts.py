@@ -78,15 +78,17 @@ def _trimmed_once(judges, steps, whole):
 def _without(judge, steps, whole):
     """The steps but the first one, behind judge, if they show as much as whole; otherwise None.
 
-    The ids that rise above the missing one are moved down. A step that names the missing id is left as it is, or its
-    other ids alone are moved: such steps are hardly ever let by.
+    The ids above the missing one are moved down. A step that names the missing id is left as it is; so that it does
+    not matter whether its other ids are, both are tried. Such steps are hardly ever let by.
     """
     gone = None
     if steps[0][0] in ("derive", "follow", "refute", "witness", "dominate"):
         gone = judge.next_id
-    moved = _moved_steps(steps[1:], gone, True)
+    tries = [_moved_steps(steps[1:], gone, True)]
     other = _moved_steps(steps[1:], gone, False)
-    for told in [moved] if moved == other else [moved, other]:
+    if other not in tries:
+        tries.append(other)
+    for told in tries:
         reader = judge.copy()
         if _reads_all(reader, told) and _shows_as_much(reader, whole):
             return told

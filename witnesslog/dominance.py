@@ -1,9 +1,9 @@
 """Literals that are preferred to others, the rows that say so, and logs by which these rows come."""
-from witnesslog.checks import are_literals_of, are_unlike, check_few, check_literal, check_many, is_literal_of
-from witnesslog.errors import BadLiterals, BadOther, BadPlan
+from witnesslog.checks import check_few, check_literal, check_literals, check_many, is_literal_of
+from witnesslog.errors import BadOther, BadPlan
 from witnesslog.fillings import MOST_TRIED, holding
 from witnesslog.goals import OF_GOAL, OF_ROW, OF_STRICT, STRICT, Ground, goals_by_dominance
-from witnesslog.orders import MOST_LITERALS, order_of_sum, papers_of_sums
+from witnesslog.orders import order_of_sum, papers_of_sums
 from witnesslog.problems import check_problem, is_plan_of, price_at
 from witnesslog.proving import refuted_steps
 from witnesslog.rows import normal_row, opposite_row, worth_of
@@ -43,7 +43,7 @@ def preference_rows(problem, literals):
 def exchanged(problem, literals, plan):
     """The pairs of indexes by whose exchanges plan is led to one at which all preference rows hold, and that one."""
     check_problem(problem)
-    _check_own_literals(problem, literals)
+    check_literals(problem.many, literals)
     if not is_plan_of(problem, plan):
         raise BadPlan("no plan of the problem")
     check_few(problem.many, MOST_TRIED)
@@ -98,7 +98,7 @@ def plan_lots(problem, literals):
 def plain_steps(problem, literals):
     """The log of the preference rows of all literals that are plainly preferred to later ones."""
     check_problem(problem)
-    _check_own_literals(problem, literals)
+    check_literals(problem.many, literals)
     steps = [preference_order(literals)]
     nets = [_nets(problem, literal) for literal in literals]
     for pair in _pairs(literals):
@@ -111,7 +111,7 @@ def plain_steps(problem, literals):
 def preference_steps(problem, literals):
     """The log of all preference rows."""
     check_problem(problem)
-    _check_own_literals(problem, literals)
+    check_literals(problem.many, literals)
     check_few(problem.many, MOST_WITH_PAPERS)
     order = preference_order(literals)
     steps = [order]
@@ -134,14 +134,9 @@ def _check_two(problem, one, other):
         raise BadOther("the other one is the same literal, or one of another variable")
 
 
-def _check_own_literals(problem, literals):
-    if not are_literals_of(problem.many, literals) or not are_unlike(literals) or len(literals) > MOST_LITERALS:
-        raise BadLiterals("literals are a list of at most 200 literals of unlike variables")
-
-
 def _checked_prices(problem, literals):
     check_problem(problem)
-    _check_own_literals(problem, literals)
+    check_literals(problem.many, literals)
     check_few(problem.many, MOST_TRIED)
     return _prices_of_plans(problem)
 
@@ -152,8 +147,6 @@ def _prices_of_plans(problem):
 
 
 def _prefers(prices, one, other):
-    if one == other:
-        return True
     for plan in prices:
         if worth_of(one, plan) == 0 and worth_of(other, plan) == 1:
             led = _swapped(plan, one, other)
@@ -280,7 +273,7 @@ def _proved_step(problem, order, literals, one, other):
     goals = goals_by_dominance(core, problem.price, order, exchange)
     for key in goals:
         if key not in papers and not ground.meets(goals[key]):
-            steps, _ = refuted_steps(assumed + [opposite_row(goals[key])], ())
+            steps = refuted_steps(assumed + [opposite_row(goals[key])])
             papers[key] = tuple([_named(len(problem.rows), told) for told in steps])
     return _dominating(problem, first, second, papers)
 

@@ -1,7 +1,9 @@
 """Following: what rows force under literals, again and again, till one of them bars."""
+from heapq import heappop, heappush
+
 from witnesslog.checks import check_literals, check_many, check_row, check_rows, is_list, is_number_from
 from witnesslog.errors import BadPicks
-from witnesslog.rows import opposite_row, slack_under
+from witnesslog.rows import opposite_row, places_of, slack_under
 
 
 class Course:
@@ -14,6 +16,8 @@ class Course:
         self.given = {}
         # A row that does not wait neither bars nor forces anything: it waits again when its slack falls.
         self.waiting = [True] * len(rows)
+        # The indexes of the rows that wait, a heap.
+        self.queue = list(range(len(rows)))
         for literal in literals:
             self.give(literal)
 
@@ -21,7 +25,9 @@ class Course:
         self.given[literal] = True
         for index, weight in self.places.get(-literal, []):
             self.slacks[index] -= weight
-            self.waiting[index] = True
+            if not self.waiting[index]:
+                self.waiting[index] = True
+                heappush(self.queue, index)
 
     def forced_by(self, index):
         """The list of the literals that this row forces, in the sequence of its terms."""
@@ -41,6 +47,8 @@ class Course:
             course.places[literal] = course.places.get(literal, []) + moved
         course.given = dict(self.given)
         course.waiting = self.waiting + [True] * len(rows)
+        # Greater indexes at its end leave a heap a heap.
+        course.queue = self.queue + list(range(len(self.rows), len(self.rows) + len(rows)))
         return course
 
     def is_free(self, literal):
@@ -51,14 +59,15 @@ class Course:
 
         It is a pair of the first literal that it forces, None if it bars, and its index.
         """
-        while True in self.waiting:
-            index = self.waiting.index(True)
+        while self.queue:
+            index = self.queue[0]
             if self.slacks[index] < 0:
                 return (None, index)
             literals = self.forced_by(index)
             if literals:
                 return (literals[0], index)
             self.waiting[index] = False
+            heappop(self.queue)
         return None
 
     def follow(self):
@@ -137,15 +146,6 @@ def followed_by(many, rows, literals, picks):
 def clashes(rows, literals):
     _, clash = Course(rows, literals).follow()
     return clash is not None
-
-
-def places_of(rows):
-    """For each literal that stands in rows the list of the indexes of its rows, with its weights."""
-    places = {}
-    for index, row in enumerate(rows):
-        for weight, literal in row[0]:
-            places.setdefault(literal, []).append((index, weight))
-    return places
 
 
 def _all_pairs(course):

@@ -209,7 +209,6 @@ class Judge:
 
 def judged(problem, log):
     """The judge behind all steps of log."""
-    check_problem(problem)
     judge, index = _read(problem, log)
     if index is not None:
         raise BadLog(index)
@@ -218,7 +217,6 @@ def judged(problem, log):
 
 def is_log(problem, thing):
     """Whether thing is a list of steps that are all let by."""
-    check_problem(problem)
     _, index = _read(problem, thing)
     return index is None
 

@@ -1,8 +1,8 @@
 """Rows that lean on a filling, and rows of two pairs: following alone decides them."""
 from witnesslog.checks import check_filling, check_many, check_rows
 from witnesslog.errors import NotLeaning, NotShort
-from witnesslog.following import Course, clashes, places_of
-from witnesslog.rows import worth_of
+from witnesslog.following import Course, clashes
+from witnesslog.rows import places_of, worth_of
 
 
 def leans(many, rows, filling):

@@ -8,7 +8,6 @@ from witnesslog.proving import blamed_by, clause_steps, first_barring
 from witnesslog.rows import bound_is_above, normal_row, opposite_row, slack_under, weight_sum
 from witnesslog.trails import check_trail, greatest_level, pairs_to
 
-
 def cut_down(many, row, literals, literal):
     """Row, weakened and divided so that literal has the weight 1."""
     _check_cut(many, row, literals, literal)
@@ -133,15 +132,10 @@ def _is_enough(row, most, ahead):
 
 def _tidied(row, left):
     """Row with smaller weights, which bars under left as row does, and the instructions to it."""
-    if _is_wide(row):
-        return ((tuple([(1, -literal) for literal in blamed_by(row, left)]), 1), clause_steps(None, row, left)[1:])
-    return (capped_row(row), [("capped",)])
-
-
-def _is_wide(row):
-    # From rows that are not wide, each step leads to one that can be put; of wide ones it might be too great.
-    terms, bound = row
-    return bound >= 10 ** 30 or not all([weight < 10 ** 30 for weight, _ in terms])
+    # So no weight or bound comes to 10 ** 30, and what is learned from learned rows, too, is never too great to be put.
+    if row[1] < 10 ** 30:
+        return (capped_row(row), [("capped",)])
+    return ((tuple([(1, -literal) for literal in blamed_by(row, left)]), 1), clause_steps(None, row, left)[1:])
 
 
 def _speaks(row, given):

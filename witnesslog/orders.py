@@ -235,7 +235,7 @@ def _sound_papers(order):
     assumed = along[0] + along[1]
     papers = {}
     for index, goal in enumerate(along[2]):
-        steps, _ = refuted_steps(assumed + [opposite_row(goal)], ())
+        steps = refuted_steps(assumed + [opposite_row(goal)])
         papers[("along", index)] = tuple([_with_goal(len(assumed), told) for told in steps])
     return papers
 

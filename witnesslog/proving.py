@@ -4,7 +4,7 @@ from witnesslog.derivations import end_of, rows_by_name
 from witnesslog.errors import BadTerms
 from witnesslog.fillings import where
 from witnesslog.papers import check_goal
-from witnesslog.rows import bound_is_above, holds_at, slack_under, sum_at, weight_sum
+from witnesslog.rows import bound_is_above, holds_at, places_of, slack_under, sum_at, weight_sum
 
 MOST_REFUTED = 10
 MOST_FOLLOWED = 8
@@ -39,8 +39,7 @@ def refutation(many, rows):
     found = where(many, rows)
     if found:
         return ("some", found[0])
-    steps, _ = refuted_steps(rows, ())
-    return ("none", tuple(steps))
+    return ("none", tuple(refuted_steps(rows)))
 
 
 def follows(many, rows, goal):
@@ -96,22 +95,38 @@ def first_barring(rows, given):
     return None
 
 
-def refuted_steps(rows, chosen):
+def refuted_steps(rows):
+    """Instructions to ((), 1) from rows that all hold at no filling."""
+    steps, _ = _refuted(rows, places_of(rows), [slack_under(row, ()) for row in rows], ())
+    return steps
+
+
+def _refuted(rows, places, slacks, chosen):
     """Instructions to a clause of the opposites of some of chosen, and the list of these.
 
-    The variables are chosen one after the other; at no filling all rows hold, so that some row bars at last.
+    The variables are chosen one after the other; at no filling all rows hold, so that some row bars at last. slacks
+    are those of the rows under chosen, and places tells where a literal stands in them.
     """
-    index = first_barring(rows, chosen)
-    if index is not None:
-        return (clause_steps(index, rows[index], chosen), blamed_by(rows[index], chosen))
+    barring = [index for index, left in enumerate(slacks) if left < 0]
+    if barring:
+        row = rows[barring[0]]
+        return (clause_steps(barring[0], row, chosen), blamed_by(row, chosen))
     literal = len(chosen) + 1
-    steps, blamed = refuted_steps(rows, chosen + (literal,))
+    steps, blamed = _refuted(rows, places, _slacks_with(slacks, places, literal), chosen + (literal,))
     if literal not in blamed:
         return (steps, blamed)
-    others, more = refuted_steps(rows, chosen + (-literal,))
+    others, more = _refuted(rows, places, _slacks_with(slacks, places, -literal), chosen + (-literal,))
     if -literal not in more:
         return (others, more)
     return (steps + others + [("sum",), ("divided", 2)], _both_blamed(chosen, blamed, more))
+
+
+def _slacks_with(slacks, places, literal):
+    """The slacks with one more literal given."""
+    left = list(slacks)
+    for index, weight in places.get(-literal, []):
+        left[index] -= weight
+    return left
 
 
 def _both_blamed(chosen, blamed, more):

@@ -116,6 +116,15 @@ def slack_under(row, given):
     return sum([weight for weight, literal in row[0] if -literal not in given]) - row[1]
 
 
+def places_of(rows):
+    """For each literal that stands in rows the list of the indexes of its rows, with its weights."""
+    places = {}
+    for index, row in enumerate(rows):
+        for weight, literal in row[0]:
+            places.setdefault(literal, []).append((index, weight))
+    return places
+
+
 def opposite_terms(terms):
     return tuple([(weight, -literal) for weight, literal in terms])
 
