@@ -64,7 +64,8 @@ class ChoiceTest(Case):
 
     def test_errors(self):
         for call in (choice, choice_log):
-            for prices in (None, 0, {}, "", [], (), [2, 1], [-1], [1000000], [True], [None], ["1"], [0] * 201, [[1]], {1: 1}):
+            for prices in (None, 0, {}, "", [], (), [2, 1], [-1], [1000000], [True], [None], ["1"], [0] * 201, [[1]],
+                           {1: 1}):
                 self.refuses(BadPrices, call, prices, None)
             for least in (None, -1, 3, True, "1", [1], (1,)):
                 self.refuses(BadLeast, call, [1, 2], least)

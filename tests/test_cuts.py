@@ -299,4 +299,4 @@ class RenamedTest(Case):
             for step in log:
                 words[step[0], len(step)] = words.get((step[0], len(step)), 0) + 1
         self.assertEqual(len(words), 11)
-        self.assertGreater(min(words.values()), 10, words)
+        self.assertGreater(min(words.values()), 3, words)

@@ -78,8 +78,8 @@ CLASS_METHODS = {
 # What the package takes of the library; it is only called, by its bare name.
 LIBRARY = {"heapq": ["heappop", "heappush"]}
 
-BUILTINS = """len range enumerate zip min max sum abs sorted reversed int str bool list tuple dict set isinstance ord repr
-any all divmod Exception ValueError TypeError KeyError IndexError""".split()
+BUILTINS = """len range enumerate zip min max sum abs sorted reversed int str bool list tuple dict set isinstance ord
+repr any all divmod Exception ValueError TypeError KeyError IndexError""".split()
 
 METHODS = """append clear copy count endswith extend find get index insert isalnum isalpha isdigit islower isspace
 isupper items join keys ljust lower lstrip partition pop remove replace reverse rfind rjust rpartition rsplit rstrip
@@ -325,6 +325,20 @@ class LanguageTest(unittest.TestCase):
                 if isinstance(node, ast.Raise):
                     self.assertIsInstance(node.exc, ast.Call)
                     self.assertIsNone(node.cause)
+
+    def test_names_in_comprehensions(self):
+        kinds = (ast.ListComp, ast.SetComp, ast.DictComp)
+        for path, tree in self.each():
+            for outer in ast.walk(tree):
+                if isinstance(outer, kinds):
+                    own = self.targets(outer)
+                    for inner in ast.walk(outer):
+                        if isinstance(inner, kinds) and inner is not outer:
+                            self.assertEqual((self.targets(inner) & own) - {"_"}, set(), inner.lineno)
+
+    def targets(self, comprehension):
+        return {node.id for part in comprehension.generators for node in ast.walk(part.target)
+                if isinstance(node, ast.Name)}
 
     def stands_in_len(self, tree, node):
         return any(isinstance(call, ast.Call) and isinstance(call.func, ast.Name) and call.func.id in ("len", "sorted")

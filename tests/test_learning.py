@@ -276,7 +276,8 @@ class LearnedTest(Case):
                 self.refuses(BadMany, call, many, None, None, *more)
             for rows in BAD_LISTS:
                 self.refuses(BadRows, call, 2, rows, None, *more)
-            for trail in (None, [], [(-1, None)], ((1, 0),), ((-1, True),), ((True, None),), ((-1, None), (2, 1)), (2,)):
+            for trail in (None, [], [(-1, None)], ((1, 0),), ((-1, True),), ((True, None),), ((-1, None), (2, 1)),
+                          (2,)):
                 self.refuses(BadTrail, call, 2, PAIR, trail, *more)
         for row in BAD_ROWS:
             self.refuses(BadRow, back_level, 2, PAIR, TRAIL, row)

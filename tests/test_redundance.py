@@ -313,7 +313,7 @@ class DefinedTest(LetByCase):
             for step, names in zip(found[1:], ("no", "yes")):
                 self.same(step[2], tuple(range(1, z)) + (names,))
             done += 1
-        self.assertGreater(done, 100)
+        self.assertGreater(done, 50)
 
     def test_errors(self):
         for thing in NO_JUDGES:
@@ -341,7 +341,8 @@ class ExchangedTest(LetByCase):
                   [("core", (6,)), ("leave", 3), ("core", (7,)), ("leave", 5)])
         self.assertTrue(all(set(step[3]) == {("own",)} for step in found if step[0] == "leave"))
         behind = self.let_by(judge, found)
-        self.same(behind.core(), {1: rows[0], 2: rows[1], 4: rows[3], 6: (((1, 2), (1, 3)), 1), 7: (((1, 2), (1, 3)), 1)})
+        came = (((1, 2), (1, 3)), 1)
+        self.same(behind.core(), {1: rows[0], 2: rows[1], 4: rows[3], 6: came, 7: came})
 
     def test_by_chance(self):
         done, gone = 0, 0

@@ -206,8 +206,9 @@ def _lots(prices, literals):
 
 def _nets(problem, literal):
     """Row by row the weight of literal, less that of its opposite; at last the same of the price, turned about."""
-    price = [(-weight, other) for weight, other in problem.price[0]]
-    return [_net_weight(terms, literal) for terms in [terms for terms, _ in problem.rows] + [price]]
+    sums = [terms for terms, _ in problem.rows]
+    sums.append([(-weight, other) for weight, other in problem.price[0]])
+    return [_net_weight(pairs, literal) for pairs in sums]
 
 
 def _net_weight(terms, literal):

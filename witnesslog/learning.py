@@ -4,9 +4,10 @@ from witnesslog.checks import is_literal_of, is_number, is_row_of
 from witnesslog.derivations import capped_row, divided_row, end_of
 from witnesslog.errors import BadLiteral, BadRow, NoClash
 from witnesslog.following import Course, clashes
-from witnesslog.proving import blamed_by, clause_steps, first_barring
+from witnesslog.proving import clause_by, first_barring, steps_to_clause
 from witnesslog.rows import bound_is_above, normal_row, opposite_row, slack_under, weight_sum
 from witnesslog.trails import check_trail, greatest_level, pairs_to
+
 
 def cut_down(many, row, literals, literal):
     """Row, weakened and divided so that literal has the weight 1."""
@@ -135,7 +136,7 @@ def _tidied(row, left):
     # So no weight or bound comes to 10 ** 30, and what is learned from learned rows, too, is never too great to be put.
     if row[1] < 10 ** 30:
         return (capped_row(row), [("capped",)])
-    return ((tuple([(1, -literal) for literal in blamed_by(row, left)]), 1), clause_steps(None, row, left)[1:])
+    return (clause_by(row, left), steps_to_clause(row, left))
 
 
 def _speaks(row, given):

@@ -21,7 +21,7 @@ def clause_of(many, row, literals):
     check_literals(many, literals)
     if slack_under(row, literals) >= 0:
         return None
-    return (clause_steps(0, row, literals), (tuple([(1, -literal) for literal in blamed_by(row, literals)]), 1))
+    return (clause_steps(0, row, literals), clause_by(row, literals))
 
 
 def is_refutation(many, named, thing):
@@ -73,7 +73,12 @@ def least_of(many, rows, terms):
 
 def clause_steps(name, row, given):
     """Instructions to the clause of row, which has this name and bars under the literals given."""
-    steps = [("row", name)]
+    return [("row", name)] + steps_to_clause(row, given)
+
+
+def steps_to_clause(row, given):
+    """Instructions that make its clause of row, which bars under the literals given and is on the stack."""
+    steps = []
     bound = row[1]
     for weight, literal in row[0]:
         if -literal not in given:
@@ -86,6 +91,11 @@ def clause_steps(name, row, given):
 def blamed_by(row, given):
     """Those of the literals given whose opposites stand in row, by ascending size."""
     return [-literal for _, literal in row[0] if -literal in given]
+
+
+def clause_by(row, given):
+    """The clause of row, which bars under the literals given."""
+    return (tuple([(1, -literal) for literal in blamed_by(row, given)]), 1)
 
 
 def first_barring(rows, given):

@@ -3,7 +3,7 @@ from witnesslog.checks import are_literals_of, are_unlike, check_literals, check
 from witnesslog.checks import is_literal_of, is_number_between, is_pair
 from witnesslog.errors import BadChoices, BadLevel, BadSpot, BadTrail
 from witnesslog.following import Course
-from witnesslog.proving import blamed_by, clause_steps
+from witnesslog.proving import blamed_by, clause_by, clause_steps
 
 
 def is_trail(many, rows, thing):
@@ -66,7 +66,7 @@ def reason_row(many, rows, trail, spot):
     check_trail(many, rows, trail)
     check_spot(trail, spot)
     reason = rows[trail[spot][1]]
-    return (tuple([(1, -literal) for literal in blamed_by(reason, _barred_at(trail, spot))]), 1)
+    return clause_by(reason, _barred_at(trail, spot))
 
 
 def reason_paper(many, rows, trail, spot):
