@@ -10,6 +10,7 @@ from tests.test_language import INTERFACE
 from witnesslog import errors
 from witnesslog.judge import Judge
 from witnesslog.problems import Problem
+from witnesslog.seeking import Search
 
 ROW = (((2, 1), (3, -2)), 4)
 PAIR = [(((1, 1), (1, 2)), 1), (((1, 1), (1, -2)), 1)]
@@ -21,6 +22,7 @@ LOG = [("order", ORDER, {("along", 0): SUMS}), ("plan", (1, 0, 1)), ("derive", [
 JUDGE = Judge(PROBLEM)
 JUDGE.step(("derive", [("row", 1), ("literal", 1), ("sum",)]))
 EQUAL = Judge(Problem(3, [(((1, -1), (1, 2)), 1), (((1, 1), (1, -2)), 1), ROW], ((), 0)))
+ALIKE = Problem(3, [(((1, 1), (1, 2)), 1)], (((2, 1), (2, 2)), 0))
 HALVED = [("row", 0), ("row", 1), ("sum",), ("divided", 2)]
 RIGHT = {
     "many": 3, "thing": None, "sums": [(1, 1), (-2, -3)], "bound": 1, "row": ROW, "filling": (0, 1, 1), "one": ROW,
@@ -32,7 +34,8 @@ RIGHT = {
     "order": ORDER, "first": (0, 1, 0), "second": (1, 0, 0), "several": [(1, 1, 0), (0, 1, 0), (0, 0, 1)],
     "start": (1, 1, 1), "known": {2: ROW, 1: PAIR[0]}, "core": {2: ROW, 1: PAIR[0]}, "goals": {"b": ROW, "a": PAIR[1]},
     "judge": JUDGE, "log": LOG, "row_id": 1, "variable": 3, "holes": 2, "plan": (1, 0, 1), "prices": [0, 2, 2],
-    "least": 2,
+    "least": 2, "exchanges": [(2, -1, 3)], "loads": [3, 2, 1], "count": 3, "most": 4,
+    "guide": [-1, "restart", ("forget", 1)], "lot": (-1, 3), "assumed": (-1, 3),
 }
 # Where a parameter of the same name means another thing.
 RIGHT_OF = {
@@ -52,6 +55,11 @@ RIGHT_OF = {
     "is_preferred": {"one": 1, "other": -3},
     "is_plainly_preferred": {"one": 1, "other": -3},
     "exchanged_steps": {"judge": EQUAL, "literal": 1, "other": 2},
+    "generators": {"exchanges": [(2, -1, 3), (-1, -2, 3), (1, 2, 3), (-2, 1, 3)]},
+    "lots": {"problem": ALIKE, "exchanges": [(2, 1, 3), (2, 1, -3)]},
+    "kept_plans": {"problem": ALIKE, "exchange": (2, 1, -3)},
+    "firsts": {"problem": ALIKE, "exchanges": [(2, 1, 3), (2, 1, -3)]},
+    "likeness_steps": {"problem": ALIKE, "exchanges": [(2, 1, 3), (2, 1, -3)]},
 }
 WRONG = {
     "many": 0, "sums": {}, "bound": True, "row": list(ROW), "filling": [0, 1, 1], "one": None, "other": None,
@@ -61,6 +69,7 @@ WRONG = {
     "order": [ORDER], "first": (True, 1, 0), "second": ("no", 3), "several": [None], "start": (0, 1, True),
     "known": [ROW], "core": {True: ROW}, "goals": {1: None}, "judge": PROBLEM, "log": [None], "row_id": True,
     "variable": 0, "holes": True, "plan": (1, 1, 1), "prices": [2, 1], "least": None,
+    "exchanges": [(1, 1, 2)], "loads": [0], "count": True, "most": -1, "guide": [True], "lot": [1], "assumed": (True,),
 }
 ERRORS = {
     "many": errors.BadMany, "sums": errors.BadSum, "bound": errors.BadBound, "row": errors.BadRow,
@@ -73,7 +82,8 @@ ERRORS = {
     "several": errors.BadFillings, "start": errors.BadFilling, "known": errors.BadNamed, "core": errors.BadNamed,
     "goals": errors.BadNamed, "judge": errors.BadJudge, "log": errors.BadLog, "row_id": errors.BadId,
     "variable": errors.BadVariable, "holes": errors.BadNumber, "plan": errors.BadPlan, "prices": errors.BadPrices,
-    "least": errors.BadLeast,
+    "least": errors.BadLeast, "exchanges": errors.BadExchanges, "loads": errors.BadLoads, "count": errors.BadCount,
+    "most": errors.BadMost, "guide": errors.BadGuide, "lot": errors.BadLot, "assumed": errors.BadLot,
 }
 
 
@@ -112,6 +122,8 @@ def shown(thing):
     if isinstance(thing, Judge):
         return repr((shown(thing.problem), thing.many, thing.best, thing.core(), thing.derived(), thing.order(),
                      thing.log(), thing.gone, thing.next_id))
+    if isinstance(thing, Search):
+        return repr((thing.choices(), thing.trail(), thing.reasons(), shown(thing.judge())))
     if isinstance(thing, (list, tuple)):
         return repr((type(thing), [shown(item) for item in thing]))
     return repr(thing)
@@ -141,7 +153,7 @@ class ConventionsTest(Case):
         for name, call in self.each():
             told = right_values(name, call)
             refused = [parameter for parameter in told if parameter != "thing"]
-            for count in (1, 2, len(refused)):
+            for count in (1, 2, max(1, len(refused))):
                 for wrong in combinations(refused, count):
                     spoilt = {**told, **{parameter: copy.deepcopy(WRONG[parameter]) for parameter in wrong}}
                     with self.assertRaises(errors.WitnessError) as caught:
@@ -174,9 +186,10 @@ class ConventionsTest(Case):
                                             errors.BadSpot, errors.TooMany, errors.NotLeaning,
                                             errors.NoClash, errors.NotBySums, errors.NotSound, errors.BadLiteral,
                                             errors.BadRow, errors.BadOther, errors.NotEqual,
-                                            errors.NotEliminated, errors.BadLeast))
+                                            errors.NotEliminated, errors.BadLeast, errors.NotClosed, errors.BadFilling,
+                                            errors.BadExchange))
                 if not isinstance(other, (errors.NoClash, errors.NotBySums, errors.NotSound, errors.NotEqual,
-                                          errors.NotEliminated)):
+                                          errors.NotEliminated, errors.NotClosed)):
                     self.assertNotEqual(parameter, list(told)[-1])
 
     def test_passed_stays_and_may_change(self):

@@ -67,12 +67,24 @@ INTERFACE = [
                    "chain_rows problem literals", "plan_lots problem literals", "plain_steps problem literals",
                    "preference_steps problem literals"]),
     ("choice", ["choice prices least", "choice_log prices least"]),
+    ("likenesses", ["is_likeness problem thing", "likenesses problem", "closed many exchanges",
+                    "generators many exchanges"]),
+    ("lots", ["lot_of many exchanges filling", "keeping many exchanges filling", "lots problem exchanges",
+              "kept_plans problem exchange"]),
+    ("firsts", ["first_row many exchange", "first_rows many exchanges", "firsts problem exchanges",
+                "to_first many exchanges filling", "likeness_steps problem exchanges"]),
+    ("lorries", ["lorries loads count most", "next_exchanges loads count most", "lorry_log loads count most"]),
+    ("guides", ["is_guide thing", "guide_to problem filling", "plain_guide guide"]),
+    ("seeking", ["Search problem log", "clause many lot", "solve problem guide", "is_solved problem thing",
+                 "solve_with problem assumed guide", "is_solved_with problem assumed thing"]),
 ]
 
 # The methods that the interface lists for its classes, with their parameters.
 CLASS_METHODS = {
     "Judge": ["core", "derived", "known", "order", "log", "step step", "copy", "__len__", "__eq__ other"],
     "Problem": ["__eq__ other"],
+    "Search": ["choices", "trail", "reasons", "clash", "known", "log", "judge", "is_closed", "found", "choose literal",
+               "learn", "forget number", "restart", "take"],
 }
 
 # What the package takes of the library; it is only called, by its bare name.

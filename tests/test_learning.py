@@ -5,7 +5,8 @@ from tests.test_proving import BAD_LISTS, BAD_LITERALS
 from tests.test_rows import BAD_MANYS, BAD_ROWS, ROW
 from tests.test_trails import chosen_trail, some_trail, whole
 from witnesslog.errors import BadLiteral, BadLiterals, BadMany, BadRow, BadRows, BadTrail, NoClash
-from witnesslog.learning import (back_level, cut_down, cut_instructions, is_learned, learned, resolved, shortened)
+from witnesslog.learning import (back_level, cut_down, cut_instructions, is_learned, learned, learned_clause, resolved,
+                                 shortened)
 
 HAND = (((3, 1), (2, 2), (2, 3)), 5)
 PAIR = [(((1, 1), (1, 2)), 1), (((1, 1), (1, -2)), 1)]
@@ -252,6 +253,12 @@ class LearnedTest(Case):
                 found = learned(many, rows, trail)
                 self.assertTrue(learned_thing(many, rows, trail, found), (rows, trail, found))
                 self.assertLess(max([found[0][1]] + [w for w, _ in found[0][0]]), 10 ** 30)
+
+    def test_learned_by_clauses_alone(self):
+        for many, rows, trail in barring_trails(self.rng, 300):
+            row, told = learned_clause(rows, trail)
+            self.assertTrue(learned_thing(many, rows, trail, (row, told, level_back(trail, row))))
+            self.assertTrue(row[1] == 1 and all(w == 1 for w, _ in row[0]))
 
     def test_back_level(self):
         for many, rows, trail in barring_trails(self.rng, 300):

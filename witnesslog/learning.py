@@ -4,7 +4,7 @@ from witnesslog.checks import is_literal_of, is_number, is_row_of
 from witnesslog.derivations import capped_row, divided_row, end_of
 from witnesslog.errors import BadLiteral, BadRow, NoClash
 from witnesslog.following import Course, clashes
-from witnesslog.proving import clause_by, first_barring, steps_to_clause
+from witnesslog.proving import blamed_by, clause_by, clause_of_opposites, clause_steps, first_barring, steps_to_clause
 from witnesslog.rows import bound_is_above, normal_row, opposite_row, slack_under, weight_sum
 from witnesslog.trails import check_trail, greatest_level, pairs_to
 
@@ -95,9 +95,35 @@ def check_barring_row(many, trail, row):
 def level_back(trail, row):
     """The back level of row, which bars under all literals of trail."""
     level = 0
-    while not _speaks(row, _literals_of(pairs_to(trail, level))):
-        level += 1
+    given = {}
+    for literal, reason in trail:
+        if reason is None:
+            if _speaks(row, given):
+                return level
+            level += 1
+        given[literal] = True
     return level
+
+
+def learned_clause(rows, trail):
+    """As learned_row, but by clauses alone, whose weights never grow: for rows with weights that are too great."""
+    left = _literals_of(trail)
+    index = first_barring(rows, left)
+    told = clause_steps(index, rows[index], left)
+    blamed = {literal: True for literal in blamed_by(rows[index], left)}
+    most = greatest_level(trail)
+    ahead = _literals_of(pairs_to(trail, most - 1))
+    for literal, reason in reversed(trail):
+        row = clause_of_opposites(list(blamed))
+        if _is_enough(row, most, ahead):
+            return (row, told)
+        del left[literal]
+        if literal in blamed:
+            del blamed[literal]
+            blamed.update({other: True for other in blamed_by(rows[reason], left)})
+            # The reason of literal bars under what is ahead of it and its opposite.
+            told.extend(clause_steps(reason, rows[reason], list(left) + [-literal]) + [("sum",), ("divided", 2)])
+    return (clause_of_opposites(list(blamed)), told)
 
 
 def learned_row(rows, trail):
@@ -140,8 +166,14 @@ def _tidied(row, left):
 
 
 def _speaks(row, given):
-    """Whether row bars or forces a literal under the literals given."""
-    return slack_under(row, given) < 0 or len(Course([row], given).forced_by(0)) > 0
+    """Whether row bars or forces a literal under the literals given, a dict that has them for keys."""
+    left = slack_under(row, given)
+    if left < 0:
+        return True
+    for weight, literal in row[0]:
+        if weight > left and literal not in given and -literal not in given:
+            return True
+    return False
 
 
 def _literals_of(pairs):

@@ -47,15 +47,39 @@ def has_impossible(judge):
 def floor_of(judge):
     if has_impossible(judge):
         return judge.best
+    low = max(list(_lows(judge).values()) + [judge.problem.price[1]])
+    if judge.best is None:
+        return low
+    return min(low, judge.best)
+
+
+def _lows(judge):
+    """What each known row but 0 says of the price, by its id: that it is so much at least."""
     terms, base = judge.problem.price
     weights = {literal: weight for weight, literal in terms}
     known = judge.known()
     # A row covers that the terms come to its bound, less what its weights are above those of the terms.
-    sums = [known[name][1] - missing_in(known[name][0], weights) for name in known if name != 0]
-    low = base + max(sums + [0])
-    if judge.best is None:
-        return low
-    return min(low, judge.best)
+    return {name: base + known[name][1] - missing_in(known[name][0], weights) for name in known if name != 0}
+
+
+def spared(judge, names, most):
+    """The first of names, at most so many, all of whose rows may go, one behind the other, without a lower floor.
+
+    The names are ids of derived rows, none of which is impossible.
+    """
+    low = floor_of(judge)
+    lows = _lows(judge)
+    # How many there are that keep the floor where it is.
+    holding_it = len([name for name in lows if lows[name] >= low])
+    if judge.problem.price[1] >= low:
+        holding_it += 1
+    found = []
+    for name in names:
+        if len(found) < most and (lows[name] < low or holding_it > 1):
+            found.append(name)
+            if lows[name] >= low:
+                holding_it -= 1
+    return found
 
 
 def _check_tried(judge):

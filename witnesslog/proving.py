@@ -95,7 +95,13 @@ def blamed_by(row, given):
 
 def clause_by(row, given):
     """The clause of row, which bars under the literals given."""
-    return (tuple([(1, -literal) for literal in blamed_by(row, given)]), 1)
+    return clause_of_opposites(blamed_by(row, given))
+
+
+def clause_of_opposites(literals):
+    """The row that says that not all of literals, which are of unlike variables, are worth 1."""
+    opposites = {abs(literal): -literal for literal in literals}
+    return (tuple([(1, opposites[size]) for size in sorted(opposites)]), 1)
 
 
 def first_barring(rows, given):

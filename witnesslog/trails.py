@@ -84,6 +84,11 @@ def clash_paper(many, rows, literals):
     check_many(many)
     check_rows(many, rows)
     check_literals(many, literals)
+    return clash_steps(rows, literals)
+
+
+def clash_steps(rows, literals):
+    """As clash_paper, for any number of rows."""
     course = Course(rows, literals)
     steps, clash = course.follow()
     if clash is None:
@@ -101,6 +106,17 @@ def clash_paper(many, rows, literals):
             told.extend([("sum",), ("divided", 2)])
             del given[-literal]
     return told
+
+
+def choices_behind(rows, trail, blamed):
+    """The list of the chosen literals of trail from which the literals blamed, of trail too, follow."""
+    marked = {literal: True for literal in blamed}
+    given = {literal: True for literal, _ in trail}
+    for literal, reason in reversed(trail):
+        del given[literal]
+        if literal in marked and reason is not None:
+            marked.update({other: True for other in blamed_by(rows[reason], given)})
+    return [literal for literal, reason in trail if reason is None and literal in marked]
 
 
 def check_choices(many, choices):
