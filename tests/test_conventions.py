@@ -8,6 +8,7 @@ from tests import helper
 from tests.helper import Case
 from tests.test_language import INTERFACE
 from witnesslog import errors
+from witnesslog.desk import Desk
 from witnesslog.judge import Judge
 from witnesslog.problems import Problem
 from witnesslog.seeking import Search
@@ -36,6 +37,7 @@ RIGHT = {
     "judge": JUDGE, "log": LOG, "row_id": 1, "variable": 3, "holes": 2, "plan": (1, 0, 1), "prices": [0, 2, 2],
     "least": 2, "exchanges": [(2, -1, 3)], "loads": [3, 2, 1], "count": 3, "most": 4,
     "guide": [-1, "restart", ("forget", 1)], "lot": (-1, 3), "assumed": (-1, 3),
+    "groups": [[3, 1], [2, 2, 5]], "ways": ["above", "below"], "hands": [(["above"], [1, ("forget", 1)], 2), ([], [], 1)],
 }
 # Where a parameter of the same name means another thing.
 RIGHT_OF = {
@@ -60,6 +62,12 @@ RIGHT_OF = {
     "kept_plans": {"problem": ALIKE, "exchange": (2, 1, -3)},
     "firsts": {"problem": ALIKE, "exchanges": [(2, 1, 3), (2, 1, -3)]},
     "likeness_steps": {"problem": ALIKE, "exchanges": [(2, 1, 3), (2, 1, -3)]},
+    "counting": {"judge": EQUAL, "number": 1},
+    "plain": {"problem": PROBLEM, "log": LOG + [("follow", ROW)]},
+    "problem_of": {"text": "many 2\nrow 1*1 3*-2 >= 4\nprice -1 : 2*2\n"},
+    "log_of": {"text": "witness 1 1*1 >= 1 : yes 2\ngoal own : row:-2\nnew\n"},
+    "begun": {"text": "witness 1 1*1 >= 1 : yes 2\ngoal own : row:-2\nnew\nplan"},
+    "paper_of": {"text": "derive row:1\nderive row:2 sum\n"},
 }
 WRONG = {
     "many": 0, "sums": {}, "bound": True, "row": list(ROW), "filling": [0, 1, 1], "one": None, "other": None,
@@ -70,6 +78,7 @@ WRONG = {
     "known": [ROW], "core": {True: ROW}, "goals": {1: None}, "judge": PROBLEM, "log": [None], "row_id": True,
     "variable": 0, "holes": True, "plan": (1, 1, 1), "prices": [2, 1], "least": None,
     "exchanges": [(1, 1, 2)], "loads": [0], "count": True, "most": -1, "guide": [True], "lot": [1], "assumed": (True,),
+    "groups": [[1]], "ways": ["up"], "hands": [([], [], 0)], "text": None,
 }
 ERRORS = {
     "many": errors.BadMany, "sums": errors.BadSum, "bound": errors.BadBound, "row": errors.BadRow,
@@ -84,6 +93,7 @@ ERRORS = {
     "variable": errors.BadVariable, "holes": errors.BadNumber, "plan": errors.BadPlan, "prices": errors.BadPrices,
     "least": errors.BadLeast, "exchanges": errors.BadExchanges, "loads": errors.BadLoads, "count": errors.BadCount,
     "most": errors.BadMost, "guide": errors.BadGuide, "lot": errors.BadLot, "assumed": errors.BadLot,
+    "groups": errors.BadGroups, "ways": errors.BadWays, "hands": errors.BadHands, "text": errors.BadText,
 }
 
 
@@ -96,6 +106,7 @@ ERRORS_OF = {
     "is_preferred": {"one": errors.BadLiteral, "other": errors.BadOther},
     "is_plainly_preferred": {"one": errors.BadLiteral, "other": errors.BadOther},
     "exchanged_steps": {"other": errors.BadLiteral},
+    "counting": {"number": errors.BadId},
 }
 
 
@@ -122,6 +133,8 @@ def shown(thing):
     if isinstance(thing, Judge):
         return repr((shown(thing.problem), thing.many, thing.best, thing.core(), thing.derived(), thing.order(),
                      thing.log(), thing.gone, thing.next_id))
+    if isinstance(thing, Desk):
+        return repr((thing.many, thing.price, thing.deeds()))
     if isinstance(thing, Search):
         return repr((thing.choices(), thing.trail(), thing.reasons(), shown(thing.judge())))
     if isinstance(thing, (list, tuple)):

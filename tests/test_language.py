@@ -77,6 +77,15 @@ INTERFACE = [
     ("guides", ["is_guide thing", "guide_to problem filling", "plain_guide guide"]),
     ("seeking", ["Search problem log", "clause many lot", "solve problem guide", "is_solved problem thing",
                  "solve_with problem assumed guide", "is_solved_with problem assumed thing"]),
+    ("cores", ["tight_core problem assumed guide", "is_core problem assumed thing", "guarded groups",
+               "guarded_log groups"]),
+    ("counting", ["counting judge number"]),
+    ("least", ["least problem ways guide", "is_least problem thing", "moments problem log"]),
+    ("plainly", ["is_plain problem thing", "plain problem log"]),
+    ("texts", ["problem_text problem", "problem_of text", "log_text log", "log_of text", "paper_text paper",
+               "paper_of text", "begun text"]),
+    ("desk", ["Desk many price"]),
+    ("going", ["go_on problem log ways guide", "go_some problem log ways guide most", "relay problem hands"]),
 ]
 
 # The methods that the interface lists for its classes, with their parameters.
@@ -85,10 +94,12 @@ CLASS_METHODS = {
     "Problem": ["__eq__ other"],
     "Search": ["choices", "trail", "reasons", "clash", "known", "log", "judge", "is_closed", "found", "choose literal",
                "learn", "forget number", "restart", "take"],
+    "Desk": ["put row", "assume literal", "enter", "leave", "ask ways guide", "problem", "core guide", "level", "rows",
+             "assumed", "deeds", "copy", "bounds", "__eq__ other"],
 }
 
 # What the package takes of the library; it is only called, by its bare name.
-LIBRARY = {"heapq": ["heappop", "heappush"]}
+LIBRARY = {"heapq": ["heappop", "heappush"], "math": ["gcd"]}
 
 BUILTINS = """len range enumerate zip min max sum abs sorted reversed int str bool list tuple dict set isinstance ord
 repr any all divmod Exception ValueError TypeError KeyError IndexError""".split()

@@ -1,7 +1,7 @@
 """Logs cut anywhere, logs from which no step can be left out, and problems and logs with literals exchanged."""
 from witnesslog.checks import is_list
 from witnesslog.errors import BadLog
-from witnesslog.judge import Judge, judged
+from witnesslog.judge import Judge, check_read, judged
 from witnesslog.meaning import floor_of, has_impossible
 from witnesslog.problems import Problem, check_problem
 from witnesslog.trimming import exchanged_instructions
@@ -59,8 +59,7 @@ def _judges_along(problem, log):
     judges = [Judge(problem)]
     for index, step in enumerate(log):
         judge = judges[-1].copy()
-        if not judge.reads(step):
-            raise BadLog(index)
+        check_read(judge, index, step)
         judges.append(judge)
     return judges
 

@@ -58,6 +58,17 @@ def end_of(many, rows, derivation):
     return (stack[0], len(derivation))
 
 
+def summed_steps(parts):
+    """Instructions to the sum of the rows of parts, pairs of a number and a name: each row that many times."""
+    told = []
+    for index, part in enumerate(parts):
+        number, name = part
+        told.extend([("row", name), ("times", number)])
+        if index > 0:
+            told.append(("sum",))
+    return told
+
+
 def _is_done(many, rows, stack, instruction):
     """Work instruction off with stack, if that can be done; whether it can."""
     if not _is_instruction(many, rows, instruction):

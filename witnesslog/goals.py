@@ -76,7 +76,14 @@ def goals_by_dominance(core, price, order, witness):
 
 
 def _row_goals(rows, witness):
-    return {("row", name): row_led(witness, rows[name]) for name in sorted(rows) if name != 0}
+    goals = {}
+    changed = {index + 1: True for index, image in enumerate(witness) if image != index + 1}
+    for name in sorted(rows):
+        if name != 0:
+            # Most witnesses leave most variables, and so most rows, as they are.
+            stays = not any([abs(literal) in changed for _, literal in rows[name][0]])
+            goals[("row", name)] = rows[name] if stays else row_led(witness, rows[name])
+    return goals
 
 
 def _last_goals(price, order, witness):

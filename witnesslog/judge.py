@@ -173,8 +173,7 @@ class Judge:
         if not is_number(name) or name not in self.core_rows or not is_witness_of(self.many, witness):
             return False
         row = self.core_rows[name]
-        others = {other: self.core_rows[other] for other in self.core_rows if other != name}
-        if not self.is_witnessed(self.with_prices(others, {}), row, witness, step[3]):
+        if not self.is_witnessed(self.known_but_for(name), row, witness, step[3]):
             return False
         del self.core_rows[name]
         self.gone.append((row, witness))
@@ -194,6 +193,11 @@ class Judge:
         self.present_order = order
         return True
 
+    def known_but_for(self, name):
+        """The known rows if they were the other core rows and 0 alone."""
+        others = {other: self.core_rows[other] for other in self.core_rows if other != name}
+        return self.with_prices(others, {})
+
     def with_prices(self, rows, more):
         """The dict of rows and more, and of the row of prices below best, by ascending id."""
         found = {}
@@ -209,7 +213,7 @@ class Judge:
 
 def judged(problem, log):
     """The judge behind all steps of log."""
-    judge, index = _read(problem, log)
+    judge, index = read_by(problem, log)
     if index is not None:
         raise BadLog(index)
     return judge
@@ -217,7 +221,7 @@ def judged(problem, log):
 
 def is_log(problem, thing):
     """Whether thing is a list of steps that are all let by."""
-    _, index = _read(problem, thing)
+    _, index = read_by(problem, thing)
     return index is None
 
 
@@ -226,7 +230,13 @@ def check_judge(judge):
         raise BadJudge("no judge")
 
 
-def _read(problem, thing):
+def check_read(judge, index, step):
+    """Let judge read the step with this index of a log."""
+    if not judge.reads(step):
+        raise BadLog(index)
+
+
+def read_by(problem, thing):
     """A judge that read the steps of thing up to the first that is not let by, and the index of that, or None."""
     judge = Judge(problem)
     if not is_list(thing):

@@ -1,4 +1,6 @@
 """Learning at clashes: a row that bars is carried back along a trail, till it says something ahead of it."""
+from math import gcd
+
 from witnesslog.checks import check_literals, check_many, check_row, check_rows
 from witnesslog.checks import is_literal_of, is_number, is_row_of
 from witnesslog.derivations import capped_row, divided_row, end_of
@@ -143,11 +145,48 @@ def learned_row(rows, trail):
             return (row, told)
         del left[literal]
         if slack_under(row, left) >= 0:
-            told.extend(_cut_steps(row, left, -literal) + [("row", reason)])
-            told.extend(_cut_steps(rows[reason], left, literal) + [("sum",)])
-            row, steps = _tidied(_resolved_row(row, rows[reason], left, literal), left)
+            row, steps = _without_literal(row, reason, rows[reason], left, literal)
+            told.extend(steps)
+            row, steps = _tidied(row, left)
             told.extend(steps)
     return (row, told)
+
+
+def _without_literal(clash, name, reason, left, literal):
+    """A row of clash and of its reason called name, without literal, and the instructions from clash to it.
+
+    It bars under left, and says as much as can be: if what is added up as it is bars, it is that. Otherwise the reason
+    is cut down; its slack is 0 then, so that it may be added as often as it is needed.
+    """
+    weight = _weight_in(clash, -literal)
+    whole, steps = _combined(clash, _weight_in(reason, literal), reason, weight, [("row", name)])
+    if whole is not None and slack_under(whole, left) < 0:
+        return (whole, steps)
+    there = [("row", name)] + _cut_steps(reason, left, literal)
+    cut, steps = _combined(clash, 1, _cut_row(reason, left, literal), weight, there)
+    if cut is not None:
+        return (cut, steps)
+    # With clash cut down, too, the numbers do not become greater than they are.
+    return (_resolved_row(clash, reason, left, literal), _cut_steps(clash, left, -literal) + there + [("sum",)])
+
+
+def _combined(clash, one, reason, other, there):
+    """The sum of clash, one times, and reason, other times, but for what both numbers are multiples of.
+
+    With it come the instructions from clash, there being those to reason. The row is None if its numbers are great.
+    """
+    common = gcd(one, other)
+    times, more = one // common, other // common
+    if max(_greatest(clash) * times, _greatest(reason) * more) >= 10 ** 36:
+        return (None, [])
+    sums = [(times * weight, literal) for weight, literal in clash[0]]
+    sums.extend([(more * weight, literal) for weight, literal in reason[0]])
+    row = normal_row(sums, times * clash[1] + more * reason[1])
+    return (row, [("times", times)] + there + [("times", more), ("sum",)])
+
+
+def _greatest(row):
+    return max([weight for weight, _ in row[0]] + [row[1]])
 
 
 def _is_enough(row, most, ahead):

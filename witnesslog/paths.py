@@ -54,6 +54,20 @@ class Path:
         self.courses[-1] = self.whole_course()
         self.follow()
 
+    def clashes_with(self, literals):
+        """Whether following from literals, and no choices, clashes; all choices are gone then."""
+        self.go_back(0)
+        course = self.whole_course()
+        for literal in literals:
+            if -literal in course.given:
+                return True
+            if literal not in course.given:
+                course.give(literal)
+                _, clash = course.follow()
+                if clash is not None:
+                    return True
+        return False
+
     def given(self):
         """The literals of the trail, for the keys of a dict, which is not to be changed."""
         return self.courses[-1].given

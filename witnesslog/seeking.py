@@ -104,8 +104,7 @@ class Search:
         if found is None:
             raise NotWhole("there is no filling by now")
         plan = filling_led_back(self.reader, found)
-        self.made = []
-        self.add([("plan", plan)])
+        self.begin([("plan", plan)])
         return plan
 
     def path(self):
@@ -121,6 +120,11 @@ class Search:
             self.reader.step(step)
         self.present = None
 
+    def begin(self, steps):
+        """Begin again without choices, behind steps."""
+        self.made = []
+        self.add(steps)
+
     def derives(self, told):
         """Whether the judge lets by the derivation of instructions that name rows by their indexes."""
         named = [("row", self.ids[one[1]]) if one[0] == "row" else one for one in told]
@@ -135,18 +139,22 @@ class Search:
 
 
 class Wishes:
-    """The wishes of a guide that are left, and the ids of the rows that have been learned."""
+    """The wishes of a guide that are left, and the ids of the rows that have been learned.
 
-    def __init__(self, guide):
+    Behind all wishes the first free one of rather is chosen, or else the opposite of the least free variable.
+    """
+
+    def __init__(self, guide, rather):
         self.guide = tuple(guide)
+        self.rather = list(rather)
         self.done = 0
         self.learned = []
 
     def carry_out(self, search):
-        """Carry the next wish out; if there is none, choose the opposite of the first free variable."""
+        """Carry the next wish out, or choose a literal if there is none."""
         if self.done >= len(self.guide):
-            many = search.reader.many
-            search.choose(-[variable for variable in range(1, many + 1) if search.is_free(variable)][0])
+            opposites = [-variable for variable in range(1, search.reader.many + 1)]
+            search.choose([literal for literal in self.rather + opposites if search.is_free(literal)][0])
             return
         wish = self.guide[self.done]
         self.done += 1
@@ -177,7 +185,7 @@ def solve(problem, guide):
     check_problem(problem)
     check_guide(guide)
     search = Search(problem, [])
-    if seek(search, Wishes(guide), ()) is None:
+    if seek(search, Wishes(guide, ()), ()) is None:
         plan = search.take()
         return ("plan", plan, search.log())
     close(search)
@@ -203,7 +211,7 @@ def solve_with(problem, assumed, guide):
     check_lot(problem.many, assumed)
     check_guide(guide)
     search = Search(problem, [])
-    lot = seek(search, Wishes(guide), assumed)
+    lot = seek(search, Wishes(guide, ()), assumed)
     if lot is None:
         plan = search.take()
         return ("plan", plan, search.log())
@@ -241,12 +249,13 @@ def seek(search, wishes, assumed):
         path = search.path()
         given = path.given()
         ahead = [literal for literal in assumed if literal not in given]
+        against = [literal for literal in ahead if -literal in given]
         if path.barring is not None:
             if all([literal in first for literal in search.made]):
                 return _lot_behind(path, assumed, blamed_by(path.rows[path.barring], given), ())
             wishes.learned.append(search.learn())
-        elif ahead and -ahead[0] in given:
-            return _lot_behind(path, assumed, [-ahead[0]], ahead[:1])
+        elif against:
+            return _lot_behind(path, assumed, [-against[0]], against[:1])
         elif ahead:
             search.choose(ahead[0])
         elif search.found() is not None:
@@ -263,7 +272,7 @@ def close(search):
 
 def bar(search, lot):
     """Let the clause of lot come, which following shows."""
-    search.add([("follow", clause_of_opposites(lot))])
+    search.begin([("follow", clause_of_opposites(lot))])
 
 
 def is_planned(problem, thing):
