@@ -282,6 +282,38 @@ class LanguageTest(unittest.TestCase):
                              and isinstance(at.ctx, ast.Store)]
                     self.assertEqual([name for name in methods if name in given], [])
 
+    def test_no_class_has_a_method_that_is_an_attribute_of_another_one(self):
+        methods, given = set(), set()
+        for tree in TREES.values():
+            for node in tree.body:
+                if isinstance(node, ast.ClassDef):
+                    methods |= {method.name for method in node.body if isinstance(method, ast.FunctionDef)}
+                    given |= {at.attr for at in ast.walk(node) if isinstance(at, ast.Attribute)
+                              and isinstance(at.ctx, ast.Store)}
+        # These two the document gives to a class as a method and to another one as an attribute.
+        self.assertEqual(sorted(methods & given), ["problem", "rows"])
+
+    def test_no_method_is_read_off_a_class(self):
+        classes = {node.name for tree in TREES.values() for node in tree.body if isinstance(node, ast.ClassDef)}
+        for path, tree in self.each():
+            for node in ast.walk(tree):
+                if isinstance(node, ast.Attribute) and isinstance(node.value, ast.Name):
+                    self.assertNotIn(node.value.id, classes)
+
+    def test_lists_and_dicts_at_module_level_are_only_read(self):
+        for path, tree in self.each():
+            names = {node.targets[0].id for node in tree.body if isinstance(node, ast.Assign)
+                     and isinstance(node.value, (ast.List, ast.Dict))}
+            right = []
+            for node in ast.walk(tree):
+                if isinstance(node, ast.Subscript):
+                    right.append(node.value)
+                if isinstance(node, ast.Compare):
+                    right.extend(node.comparators)
+            for node in ast.walk(tree):
+                if isinstance(node, ast.Name) and isinstance(node.ctx, ast.Load) and node.id in names:
+                    self.assertIn(node, right, node.id)
+
     def test_names(self):
         for path, tree in self.each():
             for name, node in own_names(tree):

@@ -1,6 +1,8 @@
 from tests import helper
 from tests.helper import Case
+from tests.test_going_back import covers
 from tests.test_judge import DOMINATE, HAND, ORDER, STRICT_PAPER, LESS, Told, some_problem, state
+from tests.test_learning import loose_rows
 from tests.test_likenesses import NO_PROBLEMS, alike_problem
 from tests.test_meaning import EMPTY, walked
 from tests.test_redundance import clause_problem
@@ -152,6 +154,31 @@ class PlainTest(Case):
         rows = [(((great + v, -v), (great, v + 1)), great) for v in range(1, 60)] + [(((7, 1),), 1)]
         problem = Problem(60, rows, (((great, 60),), 0))
         self.check(problem, [("follow", (((1, 60),), 1)), ("plan", (1,) * 60), ("follow", ((), 1))])
+
+    def test_what_covers_makes_the_sum_impossible(self):
+        covered = 0
+        for _ in range(4000):
+            many = self.rng.randint(1, 4)
+            one, other = helper.some_row(self.rng, many, 3), helper.some_row(self.rng, many, 3)
+            if other[1] > 0:
+                turned = helper.opposite(other)
+                summed = helper.normal(many, one[0] + turned[0], one[1] + turned[1])
+                self.same(covers(one, other), helper.impossible(summed))
+                covered += covers(one, other)
+        self.assertGreater(covered, 100)
+
+    def test_what_following_refutes_has_a_derivation(self):
+        refuted = 0
+        for _ in range(300):
+            many = self.rng.randint(1, 6)
+            problem = Problem(many, loose_rows(self.rng, many, 2 * many + 1), EMPTY)
+            row = helper.some_row(self.rng, many, 3)
+            steps, clash = helper.followed(list(problem.rows) + [helper.opposite(row)], [])
+            if clash is not None:
+                told = self.check(problem, [("follow", row)])[0][2]
+                self.assertLessEqual(len(told), (len(steps) + 1) * (many + 9))
+                refuted += 1
+        self.assertGreater(refuted, 50)
 
     def test_orders(self):
         order = by_weights(3, ((2, 1), (1, -3)))

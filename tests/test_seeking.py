@@ -199,10 +199,21 @@ class SearchTest(SearchCase):
         level = len(search.choices())
         self.assertTrue(learned_thing(judge.many, list(judge.known().values()), trail, (row, told, level)))
         self.assertTrue(level < len(choices) or not choices and helper.impossible(row))
+        self.assertTrue(not choices or search.clash() is not None or
+                        self.counts(search.reasons()) > self.counts(reasons))
         kind = "learn" if choices else "learn 0"
         del choices[level:]
         log.append(step)
         return kind
+
+    def counts(self, reasons):
+        """How many literals there are on the trail ahead of the first choice, from there to the next one, and so on."""
+        found = [0]
+        for reason in reasons:
+            if reason is None:
+                found.append(0)
+            found[-1] += 1
+        return found
 
     def deed_forget(self, search, choices, log, judge, literals, reasons, clash):
         k = self.rng.choice(list(judge.derived()) * 3 + list(judge.known()) + [99])

@@ -20,7 +20,7 @@ class Desk:
         self.many = many
         self.price = price
         self.here = []
-        self.taken = []
+        self.chosen = []
         # For each level but 0 how many rows and how many assumed literals there were ahead of it.
         self.marks = []
         self.done = []
@@ -40,14 +40,14 @@ class Desk:
     def assume(self, literal):
         check_literal(self.many, literal)
         for other in (literal, -literal):
-            if other in self.taken:
+            if other in self.chosen:
                 raise IsAssumed(other)
-        self.taken.append(literal)
+        self.chosen.append(literal)
         self.done.append(("assume", literal))
 
     def enter(self):
         check_few(len(self.marks) + 1, MOST_LEVELS)
-        self.marks.append((len(self.here), len(self.taken)))
+        self.marks.append((len(self.here), len(self.chosen)))
         self.done.append(("enter",))
 
     def leave(self):
@@ -55,7 +55,7 @@ class Desk:
             raise NoLevel("there is no level to leave")
         rows, literals = self.marks.pop()
         del self.here[rows:]
-        del self.taken[literals:]
+        del self.chosen[literals:]
         self.done.append(("leave",))
 
     def ask(self, ways, guide):
@@ -66,16 +66,16 @@ class Desk:
         # Without the log.
         told = least(problem, ways, guide)[:-1]
         self.done.append(("ask", tuple(ways), tuple(guide)))
-        self.told.append((tuple(self.here), tuple(self.taken), told))
+        self.told.append((tuple(self.here), tuple(self.chosen), told))
         return told
 
     def problem(self):
-        rows = [clause_of_opposites((-literal,)) for literal in self.taken]
+        rows = [clause_of_opposites((-literal,)) for literal in self.chosen]
         return Problem(self.many, self.here + rows, self.price)
 
     def core(self, guide):
         check_guide(guide)
-        told = tight_core(Problem(self.many, self.here, self.price), tuple(self.taken), guide)
+        told = tight_core(Problem(self.many, self.here, self.price), tuple(self.chosen), guide)
         if told[0] == "plan":
             return None
         return told[1]
@@ -87,7 +87,7 @@ class Desk:
         return list(self.here)
 
     def assumed(self):
-        return tuple(self.taken)
+        return tuple(self.chosen)
 
     def deeds(self):
         return list(self.done)
@@ -95,7 +95,7 @@ class Desk:
     def copy(self):
         desk = Desk(self.many, self.price)
         desk.here = list(self.here)
-        desk.taken = list(self.taken)
+        desk.chosen = list(self.chosen)
         desk.marks = list(self.marks)
         desk.done = list(self.done)
         desk.told = list(self.told)
@@ -103,7 +103,7 @@ class Desk:
 
     def bounds(self):
         at_moments = [told for rows, literals, told in self.told
-                      if all([row in self.here for row in rows]) and all([one in self.taken for one in literals])]
+                      if all([row in self.here for row in rows]) and all([one in self.chosen for one in literals])]
         if ("none",) in at_moments:
             low = "none"
         else:

@@ -21,7 +21,6 @@ class BadDerivation(WitnessError):
     """No derivation: index is that of the first instruction that cannot be done."""
 
     def __init__(self, index):
-        WitnessError.__init__(self, "no derivation")
         self.index = index
 
 
@@ -89,7 +88,6 @@ class BadLog(WitnessError):
     """No log: index is that of the first step that is not let by."""
 
     def __init__(self, index):
-        WitnessError.__init__(self, "no log")
         self.index = index
 
 
@@ -125,7 +123,6 @@ class BadPaper(WitnessError):
     """No paper: index is that of the first derivation that has no end."""
 
     def __init__(self, index):
-        WitnessError.__init__(self, "no paper")
         self.index = index
 
 
@@ -177,7 +174,6 @@ class BadText(WitnessError):
     """No text of this kind: line is the number of the first line that cannot stand there."""
 
     def __init__(self, line):
-        WitnessError.__init__(self, "no text of this kind")
         self.line = line
 
 
@@ -201,7 +197,6 @@ class Clashes(WitnessError):
     """There is a clash: number is the id of the row that bars."""
 
     def __init__(self, number):
-        WitnessError.__init__(self, "there is a clash")
         self.number = number
 
 
@@ -213,7 +208,6 @@ class IsAssumed(WitnessError):
     """The variable has an assumed literal: literal is that one."""
 
     def __init__(self, literal):
-        WitnessError.__init__(self, "it is assumed already")
         self.literal = literal
 
 
@@ -221,7 +215,6 @@ class IsReason(WitnessError):
     """The row with the id number is needed as a reason."""
 
     def __init__(self, number):
-        WitnessError.__init__(self, "the row is a reason")
         self.number = number
 
 
@@ -253,7 +246,6 @@ class NotFree(WitnessError):
     """literal or its opposite is on the trail."""
 
     def __init__(self, literal):
-        WitnessError.__init__(self, "the literal is not free")
         self.literal = literal
 
 
@@ -277,5 +269,4 @@ class TooMany(WitnessError):
     """There are more than most."""
 
     def __init__(self, most):
-        WitnessError.__init__(self, "too many")
         self.most = most

@@ -7,10 +7,11 @@ from witnesslog.problems import MOST_OF_PROBLEM
 MOST_ID = 999999999
 MOST_DIGITS = 40
 
-# Whether the words of an instruction, and those of a key, have a number behind them.
-INSTRUCTIONS = {"row": True, "literal": True, "sum": False, "times": True, "divided": True, "capped": False,
-                "weakened": True}
-KEYS = {"row": True, "own": False, "price": False, "order": True, "strict": False, "same": True, "along": True}
+# The words of instructions and of keys, those that stand alone and those with a number behind them.
+LONE_INSTRUCTIONS = ("sum", "capped")
+NUMBERED_INSTRUCTIONS = ("row", "literal", "times", "divided", "weakened")
+LONE_KEYS = ("own", "price", "strict")
+NUMBERED_KEYS = ("row", "order", "same", "along")
 
 # How many items a step of a kind has, its word included; one that leaves the core has two more.
 PARTS = {"derive": 2, "follow": 2, "refute": 3, "plan": 2, "new": 1, "core": 2, "leave": 2, "witness": 4,
@@ -34,7 +35,7 @@ def is_derivation_form(thing):
 
 
 def is_key_form(thing):
-    if not _is_worded(KEYS, thing):
+    if not _is_worded(LONE_KEYS, NUMBERED_KEYS, thing):
         return False
     return len(thing) == 1 or is_id(thing[1])
 
@@ -73,15 +74,15 @@ def _has_right_parts(step):
     return word == "follow" or _are_images(step[2]) and _are_papers(step[3])
 
 
-def _is_worded(words, thing):
-    """Whether thing is a tuple of one of words, and of something more if that has a number behind it."""
-    if not isinstance(thing, tuple) or len(thing) == 0 or not isinstance(thing[0], str) or thing[0] not in words:
+def _is_worded(lone, numbered, thing):
+    """Whether thing is a tuple of one of the words lone, or of one of the words numbered and something more."""
+    if not isinstance(thing, tuple):
         return False
-    return len(thing) == (2 if words[thing[0]] else 1)
+    return len(thing) == 1 and thing[0] in lone or len(thing) == 2 and thing[0] in numbered
 
 
 def _is_instruction(thing):
-    if not _is_worded(INSTRUCTIONS, thing):
+    if not _is_worded(LONE_INSTRUCTIONS, NUMBERED_INSTRUCTIONS, thing):
         return False
     if len(thing) == 1:
         return True

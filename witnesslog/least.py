@@ -129,7 +129,7 @@ class Rounds:
             if self.search.reader.many + len(lot) - 1 > MOST_OF_PROBLEM:
                 self.above()
             else:
-                self.count([-literal for literal in lot])
+                self.count_on([-literal for literal in lot])
 
     def shrunk(self, lot):
         """Those literals of lot that are left if one after the other goes out, the light ones first.
@@ -145,7 +145,7 @@ class Rounds:
                 left = others
         return tuple(left)
 
-    def count(self, lot):
+    def count_on(self, lot):
         """Let new variables come for lot, of which at least one is worth 1, as the last row says."""
         many = self.search.reader.many
         self.search.begin(counting(self.search.reader, self.search.last_id()))

@@ -68,6 +68,6 @@ class Path:
                     return True
         return False
 
-    def given(self):
+    def taken(self):
         """The literals of the trail, for the keys of a dict, which is not to be changed."""
         return self.courses[-1].given

@@ -19,7 +19,7 @@ def is_plain(problem, thing):
         ahead = judge.copy()
         if not judge.reads(step) or step[0] == "follow":
             return False
-        if _has_papers(step) and not all([key in step[-1] for key in Task(ahead, step).keys()]):
+        if _has_papers(step) and not all([key in step[-1] for key in Task(ahead, step).asked()]):
             return False
     return True
 
@@ -30,12 +30,8 @@ def plain(problem, log):
     judge = Judge(problem)
     told = []
     for step in steps:
-        if step[0] == "follow":
-            step = ("refute", step[1], _refuting(assumed_rows(judge.known(), step[1])))
-        elif _has_papers(step):
-            step = step[:-1] + (_all_papers(Task(judge, step), step[-1]),)
-        judge.step(step)
-        told.append(step)
+        told.append(_plain_step(judge, step))
+        judge.step(told[-1])
     return told
 
 
@@ -65,11 +61,21 @@ class Task:
             self.ground = assumed_rows(known, row)
             self.goals = goals_by_witness(known, price, order, row, step[2])
 
-    def keys(self):
+    def asked(self):
+        """The list of the keys for which there have to be papers."""
         found = list(self.goals)
         if self.strict is not None:
             found.append(STRICT)
         return found
+
+
+def _plain_step(judge, step):
+    """The plain step for a step that judge lets by."""
+    if step[0] == "follow":
+        return ("refute", step[1], _refuting(assumed_rows(judge.known(), step[1])))
+    if _has_papers(step):
+        return step[:-1] + (_all_papers(Task(judge, step), step[-1]),)
+    return step
 
 
 def _has_papers(step):
@@ -78,7 +84,7 @@ def _has_papers(step):
 
 def _all_papers(task, papers):
     """The papers, and derivations for all goals that have none there, by ascending keys."""
-    found = dict(papers)
+    found = {key: papers[key] for key in papers}
     names = {row: name for name, row in task.ground.items()}
     for key, goal in task.goals.items():
         if key not in found:

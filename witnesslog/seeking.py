@@ -58,7 +58,7 @@ class Search:
         path = self.path()
         if path.barring is not None or len(path.pairs) < self.reader.many:
             return None
-        given = path.given()
+        given = path.taken()
         return tuple([1 if variable in given else 0 for variable in range(1, self.reader.many + 1)])
 
     def choose(self, literal):
@@ -93,7 +93,7 @@ class Search:
             raise BadId("no id of a derived row")
         if number in self.reasons() or number == self.clash():
             raise IsReason(number)
-        self.add([("leave", number)])
+        self.write([("leave", number)])
 
     def restart(self):
         self.made = []
@@ -114,7 +114,7 @@ class Search:
             self.present = Path(list(known.values()), self.made)
         return self.present
 
-    def add(self, steps):
+    def write(self, steps):
         """Let the judge read steps, behind which the trail along the choices is made anew."""
         for step in steps:
             self.reader.step(step)
@@ -123,7 +123,7 @@ class Search:
     def begin(self, steps):
         """Begin again without choices, behind steps."""
         self.made = []
-        self.add(steps)
+        self.write(steps)
 
     def derives(self, told):
         """Whether the judge lets by the derivation of instructions that name rows by their indexes."""
@@ -134,7 +134,7 @@ class Search:
         return self.reader.next_id - 1
 
     def is_free(self, literal):
-        given = self.path().given()
+        given = self.path().taken()
         return literal not in given and -literal not in given
 
 
@@ -169,7 +169,7 @@ class Wishes:
         kept = list(search.reasons())
         names = [name for name in self.learned if name not in kept]
         gone = spared(search.reader, names, count)
-        search.add([("leave", name) for name in gone])
+        search.write([("leave", name) for name in gone])
         self.learned = [name for name in self.learned if name not in gone]
 
 
@@ -247,7 +247,7 @@ def seek(search, wishes, assumed):
     first = {literal: True for literal in assumed}
     while True:
         path = search.path()
-        given = path.given()
+        given = path.taken()
         ahead = [literal for literal in assumed if literal not in given]
         against = [literal for literal in ahead if -literal in given]
         if path.barring is not None:
