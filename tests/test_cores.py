@@ -3,10 +3,10 @@ from tests.helper import Case
 from tests.test_judge import HAND, price_at
 from tests.test_likenesses import NO_PROBLEMS
 from tests.test_meaning import EMPTY
-from tests.test_seeking import WORDS, clashing_problem, denies, some_guide, tight_problem
+from tests.test_seeking import clashing_problem, log_bars, some_guide, tight_problem
 from witnesslog.cores import guarded, guarded_log, is_core, tight_core
-from witnesslog.errors import BadGroups, BadGuide, BadLot, BadProblem, WitnessError
-from witnesslog.judge import Judge, judged
+from witnesslog.errors import BadGroups, BadGuide, BadLot, BadProblem
+from witnesslog.judge import judged
 from witnesslog.meaning import floor
 from witnesslog.problems import Problem, least_plans, price_of
 
@@ -16,22 +16,6 @@ BAD_LOTS = (None, [], [1], (0,), (3,), (1, -1), (1, 1), (True,), ("1",), {}, 1)
 def right_plan(problem, literals, at):
     return (helper.filling(problem.many, at) and all(helper.holds(row, at) for row in problem.rows)
             and all(helper.worth(l, at) == 1 for l in literals))
-
-
-def right_log(problem, lot, log):
-    """Whether log is one as in ("barred", lot, log), in plain words."""
-    if type(log) not in (list, tuple) or not log:
-        return False
-    judge = Judge(problem)
-    for step in log:
-        before = judge.derived()
-        try:
-            judge.step(step)
-        except WitnessError:
-            return False
-        if step[0] not in WORDS or step[0] == "leave" and len(step) != 2:
-            return False
-    return [row for k, row in judge.derived().items() if k not in before] == [denies(lot)]
 
 
 def right_core(problem, assumed, thing):
@@ -49,7 +33,7 @@ def right_core(problem, assumed, thing):
         return False
     if not all(right_plan(problem, [k for k in lot if k != l], plans[l]) for l in lot):
         return False
-    return right_log(problem, lot, log)
+    return log_bars(problem, lot, log)
 
 
 class CoreTest(Case):

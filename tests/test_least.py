@@ -4,10 +4,10 @@ from tests.test_going_back import covers
 from tests.test_judge import HAND, price_at, some_problem
 from tests.test_likenesses import NO_PROBLEMS
 from tests.test_meaning import EMPTY, prices_from
-from tests.test_seeking import clashing_problem, some_guide, tight_problem
+from tests.test_seeking import clashing_problem, judge_behind, some_guide, tight_problem
 from witnesslog.choice import choice
 from witnesslog.cores import guarded
-from witnesslog.errors import BadGuide, BadLog, BadProblem, BadWays, TooMany, WitnessError
+from witnesslog.errors import BadGuide, BadLog, BadProblem, BadWays, TooMany
 from witnesslog.judge import Judge, is_log, judged
 from witnesslog.least import is_least, least, moments
 from witnesslog.lorries import lorries, lorry_log
@@ -44,12 +44,9 @@ def right_least(problem, thing):
     """is_least, in plain words."""
     if type(thing) is not tuple or not thing or type(thing[0]) is not str or type(thing[-1]) not in (list, tuple):
         return False
-    judge = Judge(problem)
-    for step in thing[-1]:
-        try:
-            judge.step(step)
-        except WitnessError:
-            return False
+    judge, _ = judge_behind(problem, thing[-1])
+    if judge is None:
+        return False
     if thing[0] == "none":
         return len(thing) == 2 and judge.best is None and any(helper.impossible(r) for r in judge.known().values())
     if thing[0] != "least" or len(thing) != 4 or not helper.number(thing[1]):

@@ -40,6 +40,32 @@ def denies(lot):
     return (tuple((1, -l) for l in sorted(lot, key=abs)), 1)
 
 
+def judge_behind(problem, log):
+    """The judge behind the steps, None if they are not let by, and the derived rows ahead of the last one."""
+    judge, before = Judge(problem), {}
+    for step in log:
+        before = judge.derived()
+        try:
+            judge.step(step)
+        except WitnessError:
+            return None, before
+    return judge, before
+
+
+def are_of_search(log):
+    return all(step[0] in WORDS and (step[0] != "leave" or len(step) == 2) for step in log)
+
+
+def log_bars(problem, lot, log):
+    """Whether log is one of a search by whose last step the row comes that denies lot, in plain words."""
+    if type(log) not in (list, tuple):
+        return False
+    judge, before = judge_behind(problem, log)
+    if judge is None or not are_of_search(log):
+        return False
+    return [row for k, row in judge.derived().items() if k not in before] == [denies(lot)]
+
+
 def some_guide(rng, many, most=12):
     found = []
     for _ in range(rng.randint(0, most)):
@@ -332,13 +358,8 @@ class SolveCase(SearchCase):
                 return False
         elif len(thing) != 2:
             return False
-        judge = Judge(problem)
-        for step in list(log) + end:
-            try:
-                judge.step(step)
-            except WitnessError:
-                return False
-        if not all(step[0] in WORDS and (step[0] != "leave" or len(step) == 2) for step in log):
+        judge, _ = judge_behind(problem, list(log) + end)
+        if judge is None or not are_of_search(log):
             return False
         return thing[0] == "plan" or any(helper.impossible(row) for row in judge.known().values())
 
@@ -593,18 +614,7 @@ class SolveWithTest(SolveCase):
         word, lot, log = thing
         if type(word) is not str or word != "barred" or type(lot) is not tuple or type(log) not in (list, tuple):
             return False
-        if repr(lot) != repr(tuple(l for l in assumed if l in lot)) or not log:
-            return False
-        judge = Judge(problem)
-        for step in log:
-            before = judge.derived()
-            try:
-                judge.step(step)
-            except WitnessError:
-                return False
-        if not all(step[0] in WORDS and (step[0] != "leave" or len(step) == 2) for step in log):
-            return False
-        return [row for k, row in judge.derived().items() if k not in before] == [denies(lot)]
+        return repr(lot) == repr(tuple(l for l in assumed if l in lot)) and log_bars(problem, lot, log)
 
     def test_barred_tuples(self):
         problem = Problem(3, [(((1, 1), (1, 2)), 1)], EMPTY)

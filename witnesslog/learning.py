@@ -199,9 +199,16 @@ def _is_enough(row, most, ahead):
 def _tidied(row, left):
     """Row with smaller weights, which bars under left as row does, and the instructions to it."""
     # So no weight or bound comes to 10 ** 30, and what is learned from learned rows, too, is never too great to be put.
-    if row[1] < 10 ** 30:
-        return (capped_row(row), [("capped",)])
-    return (clause_by(row, left), steps_to_clause(row, left))
+    if row[1] >= 10 ** 30:
+        return (clause_by(row, left), steps_to_clause(row, left))
+    capped = capped_row(row)
+    common = 0
+    for weight, _ in capped[0]:
+        common = gcd(common, weight)
+    if common <= 1:
+        return (capped, [("capped",)])
+    # The bound is rounded up, so that less may hold.
+    return (divided_row(capped, common), [("capped",), ("divided", common)])
 
 
 def _speaks(row, given):
