@@ -101,6 +101,35 @@ class LeastTest(LeastCase):
         # Without terms the first plan is of the least price.
         self.same(least(HAND, [], [1, 2]), ("least", 0, (1, 1), [("plan", (1, 1))]))
 
+    def test_rounds_of_the_kinds_told(self):
+        problem = Problem(4, [(((1, 1), (1, 2), (1, 3), (1, 4)), 2)], (((4, 1), (3, 2), (2, 3), (1, 4)), 0))
+        # From above no new variables come, and each plan is cheaper than the one ahead of it.
+        for guide in ([], [1, 2], [1, "restart", 2, 3]):
+            log = least(problem, ["above"] * 400, guide)[-1]
+            self.same(("new",) in log, False)
+            self.same(least(problem, ["above"] * 400, guide)[1], 3)
+        first = least(problem, ["above"] * 400, [1, 2])[-1]
+        self.same([step for step in first if step[0] == "plan"][0], ("plan", (1, 1, 0, 0)))
+        # From below the one plan that comes is of the least price; new variables come ahead of it.
+        log = least(problem, [], [1, 2])[-1]
+        self.same([step[1] for step in log if step[0] == "plan"], [(0, 0, 1, 1)])
+        self.assertLess(log.index(("new",)), log.index(("plan", (0, 0, 1, 1))))
+        # One round from above, and what comes behind it is from below.
+        for ways in (["above"], ["above", "below"]):
+            log = least(problem, ways, [1, 2])[-1]
+            self.same([step[1] for step in log if step[0] == "plan"][0], (1, 1, 0, 0))
+            self.assertLess(log.index(("plan", (1, 1, 0, 0))), log.index(("new",)))
+        log = least(problem, ["below", "above", "above"], [1, 2])[-1]
+        self.assertLess(log.index(("new",)), [step[0] for step in log].index("plan"))
+
+    def test_floors_of_rounds_from_below(self):
+        # The price of each round stands in the log, also where the last variable is in the rest.
+        for price, floors in (((((2, 1), (3, 2), (5, 3)), -4), [-2, -1, 1]), ((((5, 1), (3, 2), (2, 3)), 0), [2, 3, 5])):
+            problem = Problem(3, [(((1, 1), (1, 2), (1, 3)), 2)], price)
+            log = least(problem, [], [])[-1]
+            found = [low for low, _ in moments(problem, log)]
+            self.same(sorted(set(found)), floors)
+
     def test_for_any_ways_and_guide(self):
         words, rounds = [], 0
         for k in range(180):

@@ -169,6 +169,7 @@ class ClosedTest(Case):
         turn = tuple(range(2, 401)) + (1,)
         self.same(len(closed(400, [turn])), 400)
         self.refuses(TooMany, closed, 401, [tuple(range(2, 402)) + (1,)], most=400)
+        self.refuses(TooMany, closed, 400, [turn, (-1,) + tuple(range(2, 401))], most=400)
         self.refuses(TooMany, closed, 6, [(2, 1, 3, 4, 5, 6), (2, 3, 4, 5, 6, 1)], most=400)
         self.same(generators(400, closed(400, [turn])), [closed(400, [turn])[1]])
         self.refuses(NotClosed, generators, 6, [(2, 1, 3, 4, 5, 6), (2, 3, 4, 5, 6, 1)])

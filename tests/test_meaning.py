@@ -4,7 +4,7 @@ from tests.test_going_back import covers
 from tests.test_judge import HAND, ORDER, DOMINATE, kept, price_at, some_problem, some_step
 from witnesslog.errors import BadJudge, BadStep, TooMany
 from witnesslog.judge import Judge, judged
-from witnesslog.meaning import core_fillings, floor, is_kept, is_proved, known_fillings
+from witnesslog.meaning import core_fillings, floor, is_kept, is_proved, known_fillings, spared
 from witnesslog.problems import Problem
 
 EMPTY = ((), 0)
@@ -106,6 +106,27 @@ class MeaningTest(Case):
                     proved += 1
                 floors += low is not None and low > problem.price[1]
         self.assertGreater(min(proved, floors, without), 30)
+
+    def test_rows_that_are_spared(self):
+        needed, gone = 0, 0
+        for _ in range(300):
+            judge = walked(self.rng, 25, some_problem(self.rng))
+            for k in list(judge.core()) * 2:
+                judge.step(("derive", [("row", k)]))
+            if told_floor(judge) is None or any(helper.impossible(row) for row in judge.known().values()):
+                continue
+            names = [k for k in judge.derived() if self.rng.random() < 0.8]
+            most = self.rng.choice((1, 2, 999))
+            reader, wanted = judge.copy(), []
+            for k in names:
+                other = reader.copy()
+                other.step(("leave", k))
+                if len(wanted) < most and told_floor(other) == told_floor(judge):
+                    reader, wanted = other, wanted + [k]
+            self.same(spared(judge, names, most), wanted)
+            needed += most == 999 and len(wanted) < len(names)
+            gone += len(wanted)
+        self.assertGreater(min(needed, gone), 2)
 
     def test_what_is_not_kept(self):
         problem = Problem(2, [(((1, 1), (1, 2)), 1)], (((1, 1), (2, 2)), 0))

@@ -16,7 +16,7 @@ from witnesslog.firsts import likeness_steps
 from witnesslog.judge import Judge, is_log
 from witnesslog.least import least
 from witnesslog.lorries import lorries, lorry_log
-from witnesslog.orders import by_weights, lexicographic, papers_by_sums
+from witnesslog.orders import both, by_weights, lexicographic, papers_by_sums
 from witnesslog.pigeons import pigeons
 from witnesslog.plainly import is_plain, plain
 from witnesslog.problems import Problem
@@ -192,6 +192,15 @@ class PlainTest(Case):
         self.same((is_plain(problem, [step]), is_plain(problem, [("order", ((), ()), {})])), (True, True))
         one = ((1,), ((((1, -1), (1, 2)), 1),))
         self.same((is_log(problem, [("order", one, {})]), is_plain(problem, [("order", one, {})])), (True, False))
+
+    def test_strict_rows_of_an_order_of_several(self):
+        order = both(3, both(3, by_weights(3, ((1, 1),)), by_weights(3, ((1, 2),))), by_weights(3, ((2, 3),)))
+        problem = Problem(3, [], EMPTY)
+        log = [("order", order, papers_by_sums(3, order)), ("dominate", (((1, -3),), 1), (1, 2, "no"), {}),
+               ("dominate", (((1, -2),), 1), (1, "no", 3), {}), ("dominate", (((1, -1),), 1), ("no", 2, 3), {})]
+        found = self.check(problem, log)
+        self.same([("row", -5) in found[1][3][("strict",)], ("row", -4) in found[2][3][("strict",)],
+                   ("row", -3) in found[3][3][("strict",)]], [True, True, True])
 
     def test_each_missing_paper(self):
         done = {}

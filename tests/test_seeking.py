@@ -1,6 +1,6 @@
 from tests import helper
 from tests.helper import Case
-from tests.test_judge import DOMINATE, HAND, LESS, ORDER, price_at, some_problem, some_step, state
+from tests.test_judge import DOMINATE, HAND, ORDER, price_at, some_problem, state
 from tests.test_learning import learned_thing, loose_rows, wide
 from tests.test_meaning import EMPTY, told_floor, walked
 from witnesslog.back import led_back
