@@ -37,7 +37,8 @@ RIGHT = {
     "judge": JUDGE, "log": LOG, "row_id": 1, "variable": 3, "holes": 2, "plan": (1, 0, 1), "prices": [0, 2, 2],
     "least": 2, "exchanges": [(2, -1, 3)], "loads": [3, 2, 1], "count": 3, "most": 4,
     "guide": [-1, "restart", ("forget", 1)], "lot": (-1, 3), "assumed": (-1, 3),
-    "groups": [[3, 1], [2, 2, 5]], "ways": ["above", "below"], "hands": [(["above"], [1, ("forget", 1)], 2), ([], [], 1)],
+    "groups": [[3, 1], [2, 2, 5]], "ways": ["above", "below"],
+    "hands": [(["above"], [1, ("forget", 1)], 2), ([], [], 1)],
 }
 # Where a parameter of the same name means another thing.
 RIGHT_OF = {

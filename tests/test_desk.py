@@ -188,7 +188,8 @@ class DeskTest(Case):
     def test_errors_at_the_beginning(self):
         for many in (None, 0, 201, True, "1", -1, [1]):
             self.refuses(BadMany, Desk, many, None)
-        for price in (None, 0, [], ((), None), [(), 0], ((), True), (((1, 3),), 0), (((0, 1),), 0), ([(1, 1)], 0), ((),)):
+        for price in (None, 0, [], ((), None), [(), 0], ((), True), (((1, 3),), 0), (((0, 1),), 0), ([(1, 1)], 0),
+                      ((),)):
             self.refuses(BadPrice, Desk, 2, price)
         self.same(Desk(200, ((), 0)).rows(), [])
 

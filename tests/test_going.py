@@ -25,7 +25,8 @@ GREAT = Problem(2, HAND.rows, (((10 ** 9, 1),), 0))
 BAD_GUIDES = (None, {}, [0], "restart", [True], [201])
 BAD_MOSTS = (None, 0, 10000, True, -1, "1", [1])
 BAD_HANDS = (None, 0, {}, "", [None], [()], [[[], [], 1]], [([], [])], [([], [], 1, 1)], [([], [], 0)],
-             [([], [], 10000)], [([], [], True)], [(["Above"], [], 1)], [([], [0], 1)], [([], [True], 1)], [(None, [], 1)],
+             [([], [], 10000)], [([], [], True)], [(["Above"], [], 1)], [([], [0], 1)], [([], [True], 1)],
+             [(None, [], 1)],
              [([], None, 1)], [([], [], 1), None], [([], [], 1)] * 41, {1: ([], [], 1)})
 
 
@@ -34,7 +35,8 @@ def prices_of(problem):
 
 
 def some_hands(rng, many, most=4):
-    return [(some_ways(rng), some_guide(rng, many, 8), rng.choice((1, 2, 5, 9999))) for _ in range(rng.randint(0, most))]
+    count = rng.randint(0, most)
+    return [(some_ways(rng), some_guide(rng, many, 8), rng.choice((1, 2, 5, 9999))) for _ in range(count)]
 
 
 class GoingTest(LeastCase):
@@ -68,7 +70,8 @@ class GoingTest(LeastCase):
             problem, log = log_of_every_kind(self.rng, words)
             prices = prices_of(problem)
             for at in {len(log), self.rng.randint(0, len(log)), self.rng.randint(0, len(log))}:
-                found = self.check(problem, log[:at], some_ways(self.rng), some_guide(self.rng, problem.many, 10), prices)
+                guide = some_guide(self.rng, problem.many, 10)
+                found = self.check(problem, log[:at], some_ways(self.rng), guide, prices)
                 verdicts.append(found[0])
                 for behind in (found[-1], log[:at]):
                     self.same(log_of(log_text(behind)), list(tuples(behind)))

@@ -6,7 +6,8 @@ from witnesslog.errors import BadFilling, BadGuide, BadProblem
 from witnesslog.guides import guide_to, is_guide, plain_guide
 
 NO_GUIDES = (None, {}, 1, "restart", "", [0], [True], [False], [201], [-201], [None], ["Restart"], ["forget"], [""],
-             [("forget", 0)], [("forget", 1000)], [("forget", True)], [("forget",)], [("forget", 1, 1)], [["forget", 1]],
+             [("forget", 0)], [("forget", 1000)], [("forget", True)], [("forget",)], [("forget", 1, 1)],
+             [["forget", 1]],
              [("restart", 1)], [("forget", "1")], [()], [(1, 2)], [1] * 401, ("forget", 3), [[1]], {1: 1}, {})
 
 

@@ -69,8 +69,8 @@ def log_bars(problem, lot, log):
 def some_guide(rng, many, most=12):
     found = []
     for _ in range(rng.randint(0, most)):
-        found.append(rng.choice([rng.choice([l for l in range(-many - 1, many + 2) if l]), rng.choice(range(1, many + 1)),
-                                 "restart", ("forget", rng.choice((1, 2, 999)))]))
+        literal = rng.choice([l for l in range(-many - 1, many + 2) if l])
+        found.append(rng.choice([literal, abs(literal), "restart", ("forget", rng.choice((1, 2, 999)))]))
     return found
 
 

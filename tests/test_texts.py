@@ -249,8 +249,10 @@ class LogTextTest(TextCase):
                            ("weakened", 2)]),
                ("follow", ((), 0)), ("plan", (0, 1, 1)), ("new",), ("core", (3, 1)), ("leave", 7),
                ("witness", (((3, -2),), 1), ("yes", -2, "no"), {("row", 3): [("row", -1)], ("own",): [("row", -2)]}),
-               ("dominate", ((), 1), (1,), {}), ("leave", 0, (2, 1), {("order", 0): (("sum",),), ("strict",): [("sum",)]}),
-               ("order", ((1, -2), ((((1, -1), (1, 3)), 1), ((), 0))), {("same", 0): [("sum",)], ("along", 1): [("sum",)]}),
+               ("dominate", ((), 1), (1,), {}),
+               ("leave", 0, (2, 1), {("order", 0): (("sum",),), ("strict",): [("sum",)]}),
+               ("order", ((1, -2), ((((1, -1), (1, 3)), 1), ((), 0))),
+                {("same", 0): [("sum",)], ("along", 1): [("sum",)]}),
                ("order", ((), ()), {})]
         text = ("derive row:1 literal:-3 sum times:5 divided:5 capped weakened:2\nfollow >= 0\nplan 0 1 1\nnew\n"
                 "core 3 1\nleave 7\nwitness 2 3*-2 >= 1 : yes -2 no\ngoal own : row:-2\ngoal row:3 : row:-1\n"
@@ -314,7 +316,8 @@ class LogTextTest(TextCase):
             ("leave", True), ("witness", ((), 0), (), {}), ("witness", ((), 0), (1,) * 201, {}),
             ("witness", ((), 0), (601,), {}), ("witness", ((), 0), [1], {}), ("witness", ((), 0), (1,), []),
             ("witness", ((), 0), (1,), {("row", -1): (("sum",),)}), ("witness", ((), 0), (1,), {("own",): ()}),
-            ("witness", ((), 0), (1,), {("row", MOST_ID + 1): (("sum",),)}), ("witness", ((), 0), (1,), {("own",): None}),
+            ("witness", ((), 0), (1,), {("row", MOST_ID + 1): (("sum",),)}),
+            ("witness", ((), 0), (1,), {("own",): None}),
             ("witness", ((), 0), (1,), {("row", True): (("sum",),)}), ("witness", ((), 0), (1,), {"own": (("sum",),)}),
             ("witness", ((), 0), (1,), {("goal",): (("sum",),)}), ("witness", ((), 0), (1,), {("own", 1): (("sum",),)}),
             ("witness", ((), 0), (1,), {("row",): (("sum",),)}), ("leave", 1, (1,)), ("derive", []), ("derive", None),
@@ -335,9 +338,11 @@ class LogTextTest(TextCase):
     def test_widths_that_are_read(self):
         wide, wider = "9" * 40, "1" + "0" * 40
         for line, right in ((f"follow {wide}*1 >= {wide}", True), (f"follow {wider}*1 >= 0", False),
-                            (f"follow >= {wider}", False), (f"derive times:{wide}", True), (f"derive times:{wider}", False),
+                            (f"follow >= {wider}", False), (f"derive times:{wide}", True),
+                            (f"derive times:{wider}", False),
                             ("derive row:999999999", True), ("derive row:1000000000", False), ("derive row:-0", False),
-                            ("derive row:-999999999", True), ("derive row:-1000000000", False), ("core 1000000000", False),
+                            ("derive row:-999999999", True), ("derive row:-1000000000", False),
+                            ("core 1000000000", False),
                             ("follow 1*600 >= 0", True), ("follow 1*601 >= 0", False), ("follow 1*-600 >= 0", True),
                             ("plan" + " 1" * 200, True), ("plan" + " 1" * 201, False), ("plan", False),
                             ("core" + " 1" * 200, True), ("core" + " 1" * 201, False), ("leave 1000000000", False),
