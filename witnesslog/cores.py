@@ -20,8 +20,8 @@ def tight_core(problem, assumed, guide):
     check_lot(problem.many, assumed)
     check_guide(guide)
     search = Search(problem, [])
-    wishes = Wishes(guide, ())
-    lot = seek(search, wishes, assumed)
+    wishes = Wishes(guide)
+    lot = seek(search, wishes, assumed, [])
     if lot is None:
         return ("plan", search.found())
     bar(search, lot)
@@ -29,7 +29,7 @@ def tight_core(problem, assumed, guide):
     for literal in list(lot):
         # A literal whose plan is known is in each smaller lot, too.
         if literal in lot:
-            others = seek(search, wishes, tuple([other for other in lot if other != literal]))
+            others = seek(search, wishes, tuple([other for other in lot if other != literal]), [])
             if others is None:
                 plans[literal] = search.found()
                 search.restart()

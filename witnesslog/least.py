@@ -81,9 +81,9 @@ def least_from(search, ways, guide):
     return ("least", search.reader.best, plan, log)
 
 
-def _light_first(terms):
-    """The opposites of the literals of terms, the heaviest one first."""
-    heavy = sorted([(-weight, abs(literal), literal) for weight, literal in terms])
+def _opposites_by_weight(pairs):
+    """The opposites of the literals of pairs, those of heavy ones ahead."""
+    heavy = sorted([(-weight, abs(literal), literal) for weight, literal in pairs])
     return [-literal for _, _, literal in heavy]
 
 
@@ -97,7 +97,7 @@ class Rounds:
     def __init__(self, search, guide):
         terms, base = search.reader.problem.price
         self.search = search
-        self.wishes = Wishes(guide, _light_first(terms))
+        self.wishes = Wishes(guide)
         self.low = base
         self.rest = {literal: weight for weight, literal in terms}
         self.parts = []
@@ -110,15 +110,16 @@ class Rounds:
 
     def above(self):
         self.harden()
-        if seek(self.search, self.wishes, ()) is None:
+        if seek(self.search, self.wishes, (), self.saving()) is None:
             self.search.take()
         else:
             close(self.search)
 
     def below(self):
-        # Heavy literals come first, so that lots are of heavy ones.
-        heavy = sorted([(-weight, abs(literal), literal) for literal, weight in self.rest.items()])
-        lot = seek(self.search, self.wishes, tuple([-literal for _, _, literal in heavy]))
+        # Heavy literals come first, so that lots are of heavy ones. The price stands by what is assumed, so that behind
+        # it literals of the price may as well be worth 1.
+        assumed = tuple(_opposites_by_weight([(weight, literal) for literal, weight in self.rest.items()]))
+        lot = seek(self.search, self.wishes, assumed, [-literal for literal in reversed(self.saving())])
         if lot is None:
             self.search.take()
         elif len(lot) == 0:
@@ -130,6 +131,10 @@ class Rounds:
                 self.above()
             else:
                 self.count_on([-literal for literal in lot])
+
+    def saving(self):
+        """The list of the literals by which the price is low, those that save most ahead."""
+        return _opposites_by_weight(self.search.reader.problem.price[0])
 
     def shrunk(self, lot):
         """Those literals of lot that are left if one after the other goes out, the light ones first.

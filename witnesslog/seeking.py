@@ -139,22 +139,21 @@ class Search:
 
 
 class Wishes:
-    """The wishes of a guide that are left, and the ids of the rows that have been learned.
+    """The wishes of a guide that are left, and the ids of the rows that have been learned."""
 
-    Behind all wishes the first free one of rather is chosen, or else the opposite of the least free variable.
-    """
-
-    def __init__(self, guide, rather):
+    def __init__(self, guide):
         self.guide = tuple(guide)
-        self.rather = list(rather)
         self.done = 0
         self.learned = []
 
-    def carry_out(self, search):
-        """Carry the next wish out, or choose a literal if there is none."""
+    def carry_out(self, search, rather):
+        """Carry the next wish out.
+
+        If there is none, choose the first free literal of rather, or else the opposite of the least free variable.
+        """
         if self.done >= len(self.guide):
             opposites = [-variable for variable in range(1, search.reader.many + 1)]
-            search.choose([literal for literal in self.rather + opposites if search.is_free(literal)][0])
+            search.choose([literal for literal in rather + opposites if search.is_free(literal)][0])
             return
         wish = self.guide[self.done]
         self.done += 1
@@ -185,7 +184,7 @@ def solve(problem, guide):
     check_problem(problem)
     check_guide(guide)
     search = Search(problem, [])
-    if seek(search, Wishes(guide, ()), ()) is None:
+    if seek(search, Wishes(guide), (), []) is None:
         plan = search.take()
         return ("plan", plan, search.log())
     close(search)
@@ -211,7 +210,7 @@ def solve_with(problem, assumed, guide):
     check_lot(problem.many, assumed)
     check_guide(guide)
     search = Search(problem, [])
-    lot = seek(search, Wishes(guide, ()), assumed)
+    lot = seek(search, Wishes(guide), assumed, [])
     if lot is None:
         plan = search.take()
         return ("plan", plan, search.log())
@@ -239,10 +238,11 @@ def is_lot(many, thing):
     return isinstance(thing, tuple) and are_literals_of(many, thing) and are_unlike(thing)
 
 
-def seek(search, wishes, assumed):
+def seek(search, wishes, assumed, rather):
     """Go on with search till it has found a filling, all of assumed chosen ahead: then None.
 
     Otherwise a tuple of some of assumed, in their sequence, from which following clashes, whatever else is chosen.
+    Behind the wishes the literals of rather, a list, are chosen ahead of others.
     """
     first = {literal: True for literal in assumed}
     while True:
@@ -261,7 +261,7 @@ def seek(search, wishes, assumed):
         elif search.found() is not None:
             return None
         else:
-            wishes.carry_out(search)
+            wishes.carry_out(search, rather)
 
 
 def close(search):
