@@ -2,7 +2,7 @@ from tests import helper
 from tests.helper import Case
 from tests.test_learning import loose_rows
 from tests.test_trails import chosen_trail
-from witnesslog.paths import Path
+from witnesslog.trails import Path
 
 
 class PathsTest(Case):

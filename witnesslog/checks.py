@@ -6,6 +6,7 @@ from witnesslog.errors import BadFilling, BadLiteral, BadLiterals, BadMany, BadR
 
 MOST_VARIABLES = 600
 MOST_ROWS = 400
+MOST_ID = 999999999
 
 
 def is_number(thing):
@@ -56,6 +57,28 @@ def is_filling_of(many, thing):
     if not isinstance(thing, tuple) or len(thing) != many:
         return False
     return all([is_number_between(0, item, 1) for item in thing])
+
+
+def is_short(thing):
+    """Whether thing is a number of at most 40 digits."""
+    return is_number_between(1 - 10 ** 40, thing, 10 ** 40 - 1)
+
+
+def is_short_row(many, thing):
+    """Whether thing is a row whose numbers have at most 40 digits."""
+    return is_row_of(many, thing) and is_short(thing[1]) and all([is_short(weight) for weight, _ in thing[0]])
+
+
+def is_id(thing):
+    """Whether thing is a number that may be an id, or may stand in a key."""
+    return is_number_between(0, thing, MOST_ID)
+
+
+def is_worded(lone, numbered, thing):
+    """Whether thing is a tuple of one of the words lone, or of one of the words numbered and something more."""
+    if not isinstance(thing, tuple):
+        return False
+    return len(thing) == 1 and thing[0] in lone or len(thing) == 2 and thing[0] in numbered
 
 
 def are_literals_of(many, thing):

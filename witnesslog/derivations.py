@@ -1,9 +1,14 @@
 """Derivations: instructions that lead from named rows to one that follows."""
-from witnesslog.checks import check_many, is_list, is_literal_of, is_number, is_number_between, is_row_of
+from witnesslog.checks import MOST_ID, MOST_VARIABLES, check_many, is_list, is_literal_of, is_number
+from witnesslog.checks import is_number_between, is_row_of, is_short, is_worded
 from witnesslog.errors import BadDerivation, BadNamed
 from witnesslog.rows import normal_row
 
 MOST_INSTRUCTIONS = 400000
+
+# The words of instructions, those that stand alone and those with a number behind them.
+LONE_WORDS = ("sum", "capped")
+NUMBERED_WORDS = ("row", "literal", "times", "divided", "weakened")
 
 # How many rows of the stack an instruction takes.
 TAKEN = {"row": 0, "literal": 0, "sum": 2, "times": 1, "divided": 1, "capped": 1, "weakened": 1}
@@ -58,6 +63,13 @@ def end_of(many, rows, derivation):
     return (stack[0], len(derivation))
 
 
+def is_derivation_form(thing):
+    """Whether thing is a list of instructions by their form, whatever rows there are."""
+    if not is_list(thing) or not 1 <= len(thing) <= MOST_INSTRUCTIONS:
+        return False
+    return all([_is_instruction_form(told) for told in thing])
+
+
 def summed_steps(parts):
     """Instructions to the sum of the rows of parts, pairs of a number and a name: each row that many times."""
     told = []
@@ -101,6 +113,21 @@ def _is_instruction(many, rows, thing):
     if word in ("times", "divided"):
         return number >= 1
     return word == "weakened" and is_number_between(1, number, many)
+
+
+def _is_instruction_form(thing):
+    if not is_worded(LONE_WORDS, NUMBERED_WORDS, thing):
+        return False
+    if len(thing) == 1:
+        return True
+    word, number = thing
+    if word == "row":
+        return is_number_between(-MOST_ID, number, MOST_ID)
+    if word == "literal":
+        return is_literal_of(MOST_VARIABLES, number)
+    if word == "weakened":
+        return is_number_between(1, number, MOST_VARIABLES)
+    return is_short(number) and number >= 1
 
 
 def _row_put(rows, stack, instruction):

@@ -1,6 +1,6 @@
 """Goals: what must hold where a row does not, so that the row may come though it need not follow."""
-from witnesslog.checks import check_many, check_row, is_number, is_row_of
-from witnesslog.derivations import end_of, rows_by_name
+from witnesslog.checks import check_many, check_row, is_id, is_number, is_row_of, is_worded
+from witnesslog.derivations import end_of, is_derivation_form, rows_by_name
 from witnesslog.errors import BadNamed
 from witnesslog.following import Course
 from witnesslog.orders import check_order, rows_of_order
@@ -14,6 +14,10 @@ OF_GOAL = -2
 OF_STRICT = -3
 
 STRICT = ("strict",)
+
+# The words of keys, those that stand alone and those with a number behind them.
+LONE_KEYS = ("own", "price", "strict")
+NUMBERED_KEYS = ("row", "order", "same", "along")
 
 
 def witness_goals(many, known, price, order, row, witness):
@@ -45,6 +49,17 @@ def unmet(many, known, row, goals):
         raise BadNamed("goals are a dict whose values are rows")
     ground = Ground([known[name] for name in sorted(known)] + [opposite_row(row)])
     return [key for key in goals if not ground.meets(goals[key])]
+
+
+def are_papers_form(thing):
+    """Whether thing is a dict from keys to derivations by their form, whatever the goals are."""
+    return isinstance(thing, dict) and all([is_key_form(key) and is_derivation_form(thing[key]) for key in thing])
+
+
+def is_key_form(thing):
+    if not is_worded(LONE_KEYS, NUMBERED_KEYS, thing):
+        return False
+    return len(thing) == 1 or is_id(thing[1])
 
 
 def _check_parts(many, known, price, order, row, witness):

@@ -1,11 +1,12 @@
 """The judge, which reads a log step by step, and believes nothing else."""
-from witnesslog.checks import is_list, is_number, is_row_of
-from witnesslog.derivations import end_of
+from witnesslog.checks import MOST_VARIABLES, is_id, is_list, is_literal_of, is_number, is_number_between
+from witnesslog.checks import is_pair, is_row_of, is_short_row
+from witnesslog.derivations import end_of, is_derivation_form
 from witnesslog.errors import BadJudge, BadLog, BadStep
 from witnesslog.following import clashes
-from witnesslog.goals import STRICT, are_met, assumed_rows, is_strict
+from witnesslog.goals import STRICT, are_met, are_papers_form, assumed_rows, is_strict
 from witnesslog.goals import goals_by_dominance, goals_by_witness, rows_of_strict
-from witnesslog.orders import NO_ORDER, is_order_of, order_along, rows_of_order
+from witnesslog.orders import MOST_LITERALS, MOST_ORDER_ROWS, NO_ORDER, is_order_of, order_along, rows_of_order
 from witnesslog.problems import MOST_OF_PROBLEM, check_problem, is_plan_of, price_at, row_of_prices
 from witnesslog.rows import bound_is_above
 from witnesslog.witnesses import is_witness_of, unchanged
@@ -265,3 +266,59 @@ def _kept(part):
     if isinstance(part, dict):
         return {key: _kept(part[key]) for key in sorted(part)}
     return part
+
+
+def is_step_form(thing):
+    """Whether thing is a step by its form, no matter whether it is let by."""
+    if not _has_form(thing):
+        return False
+    if thing[0] == "leave" and len(thing) == 4:
+        return is_id(thing[1]) and _are_images(thing[2]) and are_papers_form(thing[3])
+    return len(thing) == 1 or _has_right_parts(thing)
+
+
+def _has_right_parts(step):
+    word, first = step[0], step[1]
+    if word == "derive":
+        return is_derivation_form(first)
+    if word == "plan":
+        return _is_filling_form(first)
+    if word == "core":
+        return _are_ids(first)
+    if word == "leave":
+        return is_id(first)
+    if word == "order":
+        return _is_order_form(first) and are_papers_form(step[2])
+    if not is_short_row(MOST_VARIABLES, first):
+        return False
+    if word == "refute":
+        return is_derivation_form(step[2])
+    return word == "follow" or _are_images(step[2]) and are_papers_form(step[3])
+
+
+def _is_filling_form(thing):
+    if not isinstance(thing, tuple) or not 1 <= len(thing) <= MOST_OF_PROBLEM:
+        return False
+    return all([is_number_between(0, item, 1) for item in thing])
+
+
+def _are_ids(thing):
+    if not isinstance(thing, tuple) or not 1 <= len(thing) <= MOST_OF_PROBLEM:
+        return False
+    return all([is_id(item) for item in thing])
+
+
+def _are_images(thing):
+    if not isinstance(thing, tuple) or not 1 <= len(thing) <= MOST_OF_PROBLEM:
+        return False
+    return all([is_literal_of(MOST_VARIABLES, image) or image in ("yes", "no") for image in thing])
+
+
+def _is_order_form(thing):
+    if not is_pair(thing) or not isinstance(thing[0], tuple) or not isinstance(thing[1], tuple):
+        return False
+    literals, rows = thing
+    if len(literals) > MOST_LITERALS or len(rows) > MOST_ORDER_ROWS:
+        return False
+    return (all([is_literal_of(MOST_VARIABLES, literal) for literal in literals])
+            and all([is_short_row(MOST_VARIABLES, row) for row in rows]))

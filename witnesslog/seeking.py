@@ -6,11 +6,10 @@ from witnesslog.guides import check_guide
 from witnesslog.judge import Judge, judged
 from witnesslog.learning import learned_clause, learned_row, level_back
 from witnesslog.meaning import has_impossible, spared
-from witnesslog.paths import Path
 from witnesslog.problems import check_problem, is_plan_of
 from witnesslog.proving import blamed_by, clause_of_opposites
 from witnesslog.rows import worth_of
-from witnesslog.trails import choices_behind
+from witnesslog.trails import Path, choices_behind
 
 # The steps of the log of a search.
 PLAIN_WORDS = ("derive", "follow", "refute", "leave")

@@ -1,10 +1,14 @@
 """Texts of problems, logs and papers, and what is read of them."""
-from witnesslog.checks import MOST_ROWS, MOST_VARIABLES, are_terms_of, is_list, is_number_between
+from witnesslog.checks import MOST_ROWS, MOST_VARIABLES, are_terms_of, is_id, is_list, is_number_between, is_short_row
+from witnesslog.derivations import is_derivation_form
 from witnesslog.errors import BadLog, BadPaper, BadText
-from witnesslog.forms import MOST_DIGITS, is_derivation_form, is_id, is_key_form, is_short_row, is_step_form
+from witnesslog.goals import is_key_form
+from witnesslog.judge import is_step_form
 from witnesslog.orders import MOST_ORDER_ROWS
 from witnesslog.papers import MOST_DERIVATIONS
 from witnesslog.problems import MOST_OF_PROBLEM, Problem, check_problem
+
+MOST_DIGITS = 40
 
 
 def problem_text(problem):
