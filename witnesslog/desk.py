@@ -2,8 +2,7 @@
 from witnesslog.checks import check_few, check_literal, check_many, check_row
 from witnesslog.cores import tight_core
 from witnesslog.errors import IsAssumed, NoLevel
-from witnesslog.guides import check_guide
-from witnesslog.least import check_price_weights, check_ways, least
+from witnesslog.least import least
 from witnesslog.problems import MOST_OF_PROBLEM, Problem, check_price, is_plan_of
 from witnesslog.proving import clause_of_opposites
 
@@ -59,12 +58,8 @@ class Desk:
         self.done.append(("leave",))
 
     def ask(self, ways, guide):
-        check_ways(ways)
-        check_guide(guide)
-        problem = self.problem()
-        check_price_weights(problem)
-        # Without the log.
-        told = least(problem, ways, guide)[:-1]
+        # What is wrong is refused here, ahead of any change; the log is not told.
+        told = least(self.problem(), ways, guide)[:-1]
         self.done.append(("ask", tuple(ways), tuple(guide)))
         self.told.append((tuple(self.here), tuple(self.chosen), told))
         return told
@@ -74,7 +69,6 @@ class Desk:
         return Problem(self.many, self.here + rows, self.price)
 
     def core(self, guide):
-        check_guide(guide)
         told = tight_core(Problem(self.many, self.here, self.price), tuple(self.chosen), guide)
         if told[0] == "plan":
             return None
